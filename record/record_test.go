@@ -7,119 +7,13 @@ import (
 
 	"haulier/api"
 	"haulier/record"
+	"haulier/sample"
 )
 
-func rec(kind, from, to int) api.Record { return api.Record{Kind: kind, From: from, To: to} }
-
-func span(from, to int) api.Span { return api.Span{From: from, To: to} }
-
-func list(l ...api.Record) []api.Record { return l }
-
-// chain: records from a minute on, each behind the one ahead; of each, the kind and the length.
-func chain(from int, l ...[2]int) []api.Record {
-	var records []api.Record
-	for _, r := range l {
-		records = append(records, rec(r[0], from, from+r[1]))
-		from += r[1]
-	}
-	return records
-}
+var rec, span, list = sample.Rec, sample.Span, sample.List
 
 // kinds: Rest, Avail, Work, Drive.
 func kinds() []int { return []int{0, 1, 2, 3} }
-
-// noKinds: numbers that are none of a kind.
-func noKinds() []int {
-	return []int{-1, 4, -2, 5, 256, 1 << 32, 1<<32 + 3, math.MinInt, math.MinInt + 3, math.MaxInt - 1, math.MaxInt}
-}
-
-// minutes: small ones, those at the limits and just outside, and those at both ends of 64 bits.
-func minutes() []int {
-	return []int{math.MinInt, math.MinInt + 1, -40320, -2, -1, 0, 1, 2, 3, 40319, 40320, 40321, 1 << 32, 1<<32 + 1, math.MaxInt - 1, math.MaxInt}
-}
-
-// small: all timelines of up to three records of one or two minutes each, that begin at 0, 1 or 3; none as well.
-func small() [][]api.Record {
-	l := [][]api.Record{nil}
-	for _, from := range []int{0, 1, 3} {
-		few := [][]api.Record{{}}
-		for range 3 {
-			var more [][]api.Record
-			for _, t := range few {
-				begin := from
-				if len(t) > 0 {
-					begin = t[len(t)-1].To
-				}
-				for _, kind := range kinds() {
-					more = append(more, append(slices.Clone(t), rec(kind, begin, begin+1)), append(slices.Clone(t), rec(kind, begin, begin+2)))
-				}
-			}
-			l = append(l, more...)
-			few = more
-		}
-	}
-	return l
-}
-
-// many: one record a minute, as many as there are minutes, kind by kind in turn, or all of one.
-func many(turn bool) []api.Record {
-	var l []api.Record
-	for m := range 40320 {
-		kind := 2
-		if turn {
-			kind = m % 4
-		}
-		l = append(l, rec(kind, m, m+1))
-	}
-	return l
-}
-
-// longer: timelines that are longer, or reach the limits.
-func longer() [][]api.Record {
-	return [][]api.Record{
-		{},
-		list(rec(0, 0, 40320)),
-		list(rec(3, 0, 1)),
-		list(rec(1, 40319, 40320)),
-		list(rec(2, 0, 40319), rec(2, 40319, 40320)),
-		list(rec(2, 0, 1), rec(1, 1, 40320)),
-		list(rec(3, 5, 10), rec(3, 10, 15), rec(3, 15, 20), rec(3, 20, 25)),
-		chain(100, [2]int{0, 540}, [2]int{3, 270}, [2]int{0, 15}, [2]int{0, 30}, [2]int{2, 60}, [2]int{2, 1}, [2]int{2, 2}, [2]int{1, 9}, [2]int{0, 660}),
-		chain(40000, [2]int{3, 100}, [2]int{2, 100}, [2]int{3, 100}, [2]int{3, 20}),
-		chain(0, [2]int{0, 1}, [2]int{1, 1}, [2]int{2, 1}, [2]int{3, 1}, [2]int{3, 1}, [2]int{2, 1}, [2]int{1, 1}, [2]int{0, 1}),
-		chain(7, [2]int{1, 3}, [2]int{1, 3}, [2]int{0, 3}, [2]int{1, 3}, [2]int{1, 3}),
-	}
-}
-
-// right: lists that are timelines.
-func right() [][]api.Record { return slices.Concat(small(), longer()) }
-
-// wrongList: a list that is no timeline, and what Check tells of it.
-type wrongList struct {
-	l   []api.Record
-	at  int
-	err api.Errno
-}
-
-// wrong: lists that are no timelines, for each error and for several places.
-func wrong() []wrongList {
-	return []wrongList{
-		{list(rec(4, 0, 5)), 0, api.ErrKind},
-		{list(rec(-1, 0, 5)), 0, api.ErrKind},
-		{list(rec(0, -1, 5)), 0, api.ErrRange},
-		{list(rec(0, 0, 40321)), 0, api.ErrRange},
-		{list(rec(0, 5, 5)), 0, api.ErrSpan},
-		{list(rec(0, 5, 4)), 0, api.ErrSpan},
-		{list(rec(0, 0, 5), rec(0, 6, 7)), 1, api.ErrGap},
-		{list(rec(0, 0, 5), rec(0, 4, 7)), 1, api.ErrOverlap},
-		{list(rec(0, 0, 5), rec(0, 5, 7), rec(9, 7, 8)), 2, api.ErrKind},
-		{list(rec(0, 0, 5), rec(1, 5, 7), rec(2, 7, 8), rec(3, 8, 8)), 3, api.ErrSpan},
-		{list(rec(0, 0, 5), rec(1, 5, 7), rec(2, 7, 8), rec(3, 7, 9)), 3, api.ErrOverlap},
-		{list(rec(0, 0, 5), rec(1, 5, 40320), rec(2, 40320, 40321)), 2, api.ErrRange},
-		{list(rec(0, 0, 5), rec(1, 50, 70), rec(2, 70, 71)), 1, api.ErrGap},
-		{append(many(true), rec(0, 40320, 40321)), 40320, api.ErrRange},
-	}
-}
 
 // plainCheck: record by record, and error by error, as the document tells them.
 func plainCheck(l []api.Record) (int, api.Errno) {
@@ -223,62 +117,59 @@ func joined(l ...[]api.Record) ([]api.Record, api.Errno) {
 	return plainOf(all).normal(), api.OK
 }
 
-// short: a list as a failure tells it.
-func short(l []api.Record) []api.Record { return l[:min(len(l), 8)] }
-
 func checkCheck(t *testing.T, l []api.Record, at int, err api.Errno) {
 	t.Helper()
 	if plainAt, plainErr := plainCheck(l); plainAt != at || plainErr != err {
-		t.Errorf("the test itself: %v is told as %d, %d, and should be %d, %d", short(l), plainAt, plainErr, at, err)
+		t.Errorf("the test itself: %v is told as %d, %d, and should be %d, %d", sample.Short(l), plainAt, plainErr, at, err)
 	}
 	if gotAt, got := record.Check(l); gotAt != at || got != err {
-		t.Errorf("Check(%v) = %d, %d, want %d, %d", short(l), gotAt, got, at, err)
+		t.Errorf("Check(%v) = %d, %d, want %d, %d", sample.Short(l), gotAt, got, at, err)
 	}
 }
 
 func checkNormal(t *testing.T, l, want []api.Record, wantErr api.Errno) {
 	t.Helper()
 	if got, err := record.Normal(l); !slices.Equal(got, want) || err != wantErr {
-		t.Errorf("Normal(%v) = %v, %d, want %v, %d", short(l), short(got), err, short(want), wantErr)
+		t.Errorf("Normal(%v) = %v, %d, want %v, %d", sample.Short(l), sample.Short(got), err, sample.Short(want), wantErr)
 	}
 	is := wantErr == api.OK && slices.Equal(l, want)
 	if got := record.IsNormal(l); got != is {
-		t.Errorf("IsNormal(%v) = %t, want %t", short(l), got, is)
+		t.Errorf("IsNormal(%v) = %t, want %t", sample.Short(l), got, is)
 	}
 }
 
 func checkSpan(t *testing.T, l []api.Record, want api.Span, wantOK bool) {
 	t.Helper()
 	if got, ok := record.Span(l); got != want || ok != wantOK {
-		t.Errorf("Span(%v) = %v, %t, want %v, %t", short(l), got, ok, want, wantOK)
+		t.Errorf("Span(%v) = %v, %t, want %v, %t", sample.Short(l), got, ok, want, wantOK)
 	}
 }
 
 func checkJoin(t *testing.T, want []api.Record, wantErr api.Errno, l ...[]api.Record) {
 	t.Helper()
 	if got, err := record.Join(l...); !slices.Equal(got, want) || err != wantErr {
-		t.Errorf("Join(%v) = %v, %d, want %v, %d", l, short(got), err, short(want), wantErr)
+		t.Errorf("Join(%v) = %v, %d, want %v, %d", l, sample.Short(got), err, sample.Short(want), wantErr)
 	}
 }
 
 func checkCut(t *testing.T, l []api.Record, s api.Span, want []api.Record, wantErr api.Errno) {
 	t.Helper()
 	if got, err := record.Cut(l, s); !slices.Equal(got, want) || err != wantErr {
-		t.Errorf("Cut(%v, %v) = %v, %d, want %v, %d", short(l), s, short(got), err, short(want), wantErr)
+		t.Errorf("Cut(%v, %v) = %v, %d, want %v, %d", sample.Short(l), s, sample.Short(got), err, sample.Short(want), wantErr)
 	}
 }
 
 func checkTotal(t *testing.T, l []api.Record, kind, want int, wantErr api.Errno) {
 	t.Helper()
 	if got, err := record.Total(l, kind); got != want || err != wantErr {
-		t.Errorf("Total(%v, %d) = %d, %d, want %d, %d", short(l), kind, got, err, want, wantErr)
+		t.Errorf("Total(%v, %d) = %d, %d, want %d, %d", sample.Short(l), kind, got, err, want, wantErr)
 	}
 }
 
 func checkKind(t *testing.T, l []api.Record, m, want int, wantOK bool) {
 	t.Helper()
 	if got, ok := record.Kind(l, m); got != want || ok != wantOK {
-		t.Errorf("Kind(%v, %d) = %d, %t, want %d, %t", short(l), m, got, ok, want, wantOK)
+		t.Errorf("Kind(%v, %d) = %d, %t, want %d, %t", sample.Short(l), m, got, ok, want, wantOK)
 	}
 }
 
@@ -297,14 +188,14 @@ func checkAll(t *testing.T, l []api.Record) {
 	for _, kind := range kinds() {
 		checkTotal(t, l, kind, p.total(kind), err)
 	}
-	for _, kind := range noKinds() {
+	for _, kind := range sample.NoKinds() {
 		wantErr := err
 		if err == api.OK {
 			wantErr = api.ErrKind
 		}
 		checkTotal(t, l, kind, 0, wantErr)
 	}
-	for _, m := range append(minutes(), p.from-1, p.from, p.from+len(p.kinds)/2, p.from+len(p.kinds)-1, p.from+len(p.kinds)) {
+	for _, m := range append(sample.Minutes(), p.from-1, p.from, p.from+len(p.kinds)/2, p.from+len(p.kinds)-1, p.from+len(p.kinds)) {
 		kind, ok := p.kind(m)
 		checkKind(t, l, m, kind, ok)
 	}
@@ -338,10 +229,10 @@ func TestNone(t *testing.T) {
 		for _, kind := range kinds() {
 			checkTotal(t, l, kind, 0, api.OK)
 		}
-		for _, kind := range noKinds() {
+		for _, kind := range sample.NoKinds() {
 			checkTotal(t, l, kind, 0, api.ErrKind)
 		}
-		for _, m := range minutes() {
+		for _, m := range sample.Minutes() {
 			checkKind(t, l, m, 0, false)
 		}
 	}
@@ -355,7 +246,7 @@ func TestCheckKind(t *testing.T) {
 			checkCheck(t, list(rec(ahead, 0, 5), rec(kind, 5, 6)), 0, api.OK)
 		}
 	}
-	for _, kind := range noKinds() {
+	for _, kind := range sample.NoKinds() {
 		checkCheck(t, list(rec(kind, 0, 5)), 0, api.ErrKind)
 		checkCheck(t, list(rec(kind, 0, 5), rec(3, 5, 6)), 0, api.ErrKind)
 		checkCheck(t, list(rec(3, 0, 5), rec(kind, 5, 6)), 1, api.ErrKind)
@@ -372,7 +263,7 @@ func TestCheckRange(t *testing.T) {
 		checkCheck(t, l, 0, api.OK)
 	}
 	for _, m := range []int{math.MinInt, math.MinInt + 1, -40320, -2, -1, 40321, 40322, 1 << 32, 1<<32 + 1, math.MaxInt - 1, math.MaxInt} {
-		for _, other := range append(minutes(), m, 20000) {
+		for _, other := range append(sample.Minutes(), m, 20000) {
 			checkCheck(t, list(rec(1, m, other)), 0, api.ErrRange)
 			checkCheck(t, list(rec(1, other, m)), 0, api.ErrRange)
 			checkCheck(t, list(rec(1, 0, 1), rec(1, m, other)), 1, api.ErrRange)
@@ -487,8 +378,8 @@ func TestCheckFirst(t *testing.T) {
 			checkCheck(t, list(rec(0, 0, 20), a.r, rec(2, a.r.To, a.r.To+1), b.r), 1, a.err)
 		}
 	}
-	for _, c := range wrong() {
-		checkCheck(t, c.l, c.at, c.err)
+	for _, c := range sample.Wrong() {
+		checkCheck(t, c.L, c.At, c.Err)
 	}
 }
 
@@ -549,7 +440,7 @@ func TestCheckTwo(t *testing.T) {
 
 // TestMany: a record for each minute that there is, and one more.
 func TestMany(t *testing.T) {
-	turn, same := many(true), many(false)
+	turn, same := sample.Many(true), sample.Many(false)
 	checkAll(t, turn)
 	checkNormal(t, turn, turn, api.OK)
 	checkAll(t, same)
@@ -593,8 +484,8 @@ func TestNormal(t *testing.T) {
 			t.Errorf("IsNormal(%v) = %t", c.l, is)
 		}
 	}
-	for _, c := range wrong() {
-		checkNormal(t, c.l, nil, c.err)
+	for _, c := range sample.Wrong() {
+		checkNormal(t, c.L, nil, c.Err)
 	}
 }
 
@@ -610,9 +501,9 @@ func TestIsNormal(t *testing.T) {
 			}
 		}
 	}
-	for _, c := range wrong() {
-		if record.IsNormal(c.l) {
-			t.Errorf("IsNormal(%v) = true", short(c.l))
+	for _, c := range sample.Wrong() {
+		if record.IsNormal(c.L) {
+			t.Errorf("IsNormal(%v) = true", sample.Short(c.L))
 		}
 	}
 }
@@ -624,19 +515,19 @@ func TestSpan(t *testing.T) {
 	checkSpan(t, list(rec(0, 40319, 40320)), span(40319, 40320), true)
 	checkSpan(t, list(rec(0, 5, 9), rec(3, 9, 10)), span(5, 10), true)
 	checkSpan(t, list(rec(3, 5, 9), rec(3, 9, 10), rec(3, 10, 40)), span(5, 40), true)
-	checkSpan(t, many(true), span(0, 40320), true)
-	for _, c := range wrong() {
-		checkSpan(t, c.l, api.Span{}, false)
+	checkSpan(t, sample.Many(true), span(0, 40320), true)
+	for _, c := range sample.Wrong() {
+		checkSpan(t, c.L, api.Span{}, false)
 	}
 }
 
 // TestEach: every call on each timeline of few records, on longer ones, and on lists that are none.
 func TestEach(t *testing.T) {
-	for _, l := range right() {
+	for _, l := range sample.Right() {
 		checkAll(t, l)
 	}
-	for _, c := range wrong() {
-		checkAll(t, c.l)
+	for _, c := range sample.Wrong() {
+		checkAll(t, c.L)
 	}
 }
 
@@ -672,17 +563,17 @@ func TestJoin(t *testing.T) {
 	checkJoin(t, nil, api.ErrOverlap, a, a, list(rec(4, 5, 6)))
 	checkJoin(t, nil, api.ErrGap, a, list(rec(0, 6, 7), rec(4, 7, 8)))
 	checkJoin(t, nil, api.ErrSpan, a, list(rec(0, 5, 5)), list(rec(0, 5, 6)))
-	for _, w := range wrong() {
-		checkJoin(t, nil, w.err, w.l)
-		checkJoin(t, nil, w.err, none, w.l, a)
-		checkJoin(t, nil, w.err, w.l[:w.at], w.l[w.at:])
-		checkJoin(t, nil, w.err, w.l[:w.at], none, w.l[w.at:], a, w.l)
+	for _, w := range sample.Wrong() {
+		checkJoin(t, nil, w.Err, w.L)
+		checkJoin(t, nil, w.Err, none, w.L, a)
+		checkJoin(t, nil, w.Err, w.L[:w.At], w.L[w.At:])
+		checkJoin(t, nil, w.Err, w.L[:w.At], none, w.L[w.At:], a, w.L)
 	}
 }
 
 // TestJoinParts: timelines that were taken apart, anywhere, into one list, two, three, or one a record, are whole again.
 func TestJoinParts(t *testing.T) {
-	for _, l := range right() {
+	for _, l := range sample.Right() {
 		want := plainOf(l).normal()
 		var single [][]api.Record
 		for i := range len(l) {
@@ -697,10 +588,10 @@ func TestJoinParts(t *testing.T) {
 		}
 	}
 	var each [][]api.Record
-	for _, r := range many(true) {
+	for _, r := range sample.Many(true) {
 		each = append(each, list(r))
 	}
-	checkJoin(t, many(true), api.OK, each...)
+	checkJoin(t, sample.Many(true), api.OK, each...)
 	checkJoin(t, nil, api.ErrOverlap, append(each, list(rec(0, 40319, 40320)))...)
 	checkJoin(t, nil, api.OK, make([][]api.Record, 1<<20)...)
 }
@@ -708,13 +599,13 @@ func TestJoinParts(t *testing.T) {
 // TestJoinTwo: any two and any three of some lists, whether they fit together or not.
 func TestJoinTwo(t *testing.T) {
 	var some [][]api.Record
-	for i, l := range right() {
+	for i, l := range sample.Right() {
 		if len(l) <= 1 || i%37 == 0 {
 			some = append(some, l)
 		}
 	}
-	for _, w := range wrong()[:13] {
-		some = append(some, w.l)
+	for _, w := range sample.Wrong()[:13] {
+		some = append(some, w.L)
 	}
 	fit := 0
 	for _, a := range some {
@@ -794,7 +685,7 @@ func TestCut(t *testing.T) {
 
 // TestCutEach: each timeline of few records, by all spans around it, minute by minute.
 func TestCutEach(t *testing.T) {
-	for _, l := range right() {
+	for _, l := range sample.Right() {
 		p := plainOf(l)
 		if len(p.kinds) > 50 {
 			continue
@@ -820,17 +711,17 @@ func notRight() []api.Span {
 // TestCutErrors: spans that are not right, and, ahead of that, lists that are no timelines.
 func TestCutErrors(t *testing.T) {
 	for _, s := range notRight() {
-		for _, l := range longer() {
+		for _, l := range sample.Long() {
 			checkCut(t, l, s, nil, api.ErrSpan)
 		}
 		checkCut(t, list(rec(3, 10, 15)), s, nil, api.ErrSpan)
-		for _, c := range wrong() {
-			checkCut(t, c.l, s, nil, c.err)
+		for _, c := range sample.Wrong() {
+			checkCut(t, c.L, s, nil, c.Err)
 		}
 	}
-	for _, c := range wrong() {
+	for _, c := range sample.Wrong() {
 		for _, s := range []api.Span{span(0, 1), span(0, 5), span(0, 40320), span(40320, 40321), span(-9, -5), span(math.MinInt, math.MaxInt)} {
-			checkCut(t, c.l, s, nil, c.err)
+			checkCut(t, c.L, s, nil, c.Err)
 		}
 	}
 }
@@ -846,15 +737,15 @@ func TestTotal(t *testing.T) {
 		checkTotal(t, list(rec(kind, 7, 9)), (kind+1)%4, 0, api.OK)
 	}
 	// The list's error comes ahead of the kind's.
-	for _, kind := range noKinds() {
+	for _, kind := range sample.NoKinds() {
 		checkTotal(t, l, kind, 0, api.ErrKind)
-		for _, c := range wrong() {
-			checkTotal(t, c.l, kind, 0, c.err)
+		for _, c := range sample.Wrong() {
+			checkTotal(t, c.L, kind, 0, c.Err)
 		}
 	}
 	for _, kind := range kinds() {
-		for _, c := range wrong() {
-			checkTotal(t, c.l, kind, 0, c.err)
+		for _, c := range sample.Wrong() {
+			checkTotal(t, c.L, kind, 0, c.Err)
 		}
 	}
 }
@@ -875,9 +766,9 @@ func TestKind(t *testing.T) {
 		checkKind(t, list(rec(kind, 0, 40320)), 40320, 0, false)
 		checkKind(t, list(rec(kind, 0, 40320)), -1, 0, false)
 	}
-	for _, c := range wrong() {
-		for _, m := range append(minutes(), 4, 5, 6, 7) {
-			checkKind(t, c.l, m, 0, false)
+	for _, c := range sample.Wrong() {
+		for _, m := range append(sample.Minutes(), 4, 5, 6, 7) {
+			checkKind(t, c.L, m, 0, false)
 		}
 	}
 }
@@ -892,7 +783,7 @@ func sameKinds(t *testing.T, what string, before, behind []api.Record, s api.Spa
 			want, wantOK = 0, false
 		}
 		if got, ok := record.Kind(behind, m); got != want || ok != wantOK {
-			t.Errorf("%s of %v: the minute %d is %d, %t, want %d, %t", what, short(before), m, got, ok, want, wantOK)
+			t.Errorf("%s of %v: the minute %d is %d, %t, want %d, %t", what, sample.Short(before), m, got, ok, want, wantOK)
 		}
 	}
 }
@@ -900,7 +791,7 @@ func sameKinds(t *testing.T, what string, before, behind []api.Record, s api.Spa
 // TestMinutes: P8.5: no minute's kind changes by Normal, Join and Cut.
 func TestMinutes(t *testing.T) {
 	all := span(math.MinInt, math.MaxInt)
-	for _, l := range right() {
+	for _, l := range sample.Right() {
 		if len(plainOf(l).kinds) > 2000 {
 			continue
 		}
@@ -933,10 +824,10 @@ func TestMinutes(t *testing.T) {
 
 // TestTotals: P8.5: totals of all kinds are the whole, ahead of Normal, Join and Cut and behind them.
 func TestTotals(t *testing.T) {
-	for _, l := range append(right(), many(true), many(false)) {
+	for _, l := range append(sample.Right(), sample.Many(true), sample.Many(false)) {
 		s, ok := record.Span(l)
 		if ok != (len(l) > 0) {
-			t.Errorf("Span(%v) = %v, %t", short(l), s, ok)
+			t.Errorf("Span(%v) = %v, %t", sample.Short(l), s, ok)
 		}
 		normal, _ := record.Normal(l)
 		whole, _ := record.Join(l)
@@ -947,16 +838,16 @@ func TestTotals(t *testing.T) {
 				n, err := record.Total(same, kind)
 				ahead, _ := record.Total(l, kind)
 				if err != api.OK || n != ahead {
-					t.Errorf("Total(%v, %d) = %d, %d, want %d", short(same), kind, n, err, ahead)
+					t.Errorf("Total(%v, %d) = %d, %d, want %d", sample.Short(same), kind, n, err, ahead)
 				}
 				sum += n
 			}
 			if got, _ := record.Span(same); sum != s.To-s.From || got != s {
-				t.Errorf("the totals of %v are %d, its span is %v, want that of %v", short(same), sum, got, s)
+				t.Errorf("the totals of %v are %d, its span is %v, want that of %v", sample.Short(same), sum, got, s)
 			}
 		}
 		if !record.IsNormal(normal) || !record.IsNormal(whole) || !record.IsNormal(cut) {
-			t.Errorf("of %v, Normal, Join or Cut isn't normal", short(l))
+			t.Errorf("of %v, Normal, Join or Cut isn't normal", sample.Short(l))
 		}
 	}
 }
@@ -973,21 +864,21 @@ func callAll(l []api.Record) {
 	for _, s := range append(notRight(), span(0, 3), span(1, 12), span(0, 40320), span(math.MinInt, math.MaxInt)) {
 		record.Cut(l, s)
 	}
-	for _, kind := range append(noKinds(), kinds()...) {
+	for _, kind := range append(sample.NoKinds(), kinds()...) {
 		record.Total(l, kind)
 	}
-	for _, m := range minutes() {
+	for _, m := range sample.Minutes() {
 		record.Kind(l, m)
 	}
 }
 
 // TestReadsOnly: a list reads as before behind each call, and so does what lies ahead of it and behind its length; that is nothing to what is told.
 func TestReadsOnly(t *testing.T) {
-	lists := longer()
-	for _, c := range wrong() {
-		lists = append(lists, c.l)
+	lists := sample.Long()
+	for _, c := range sample.Wrong() {
+		lists = append(lists, c.L)
 	}
-	for _, l := range append(lists, small()...) {
+	for _, l := range append(lists, sample.Small()...) {
 		for _, beside := range []api.Record{rec(9, -9, -9), rec(3, 0, 40320)} {
 			before := slices.Concat(list(beside), l, list(beside, beside))
 			memory := slices.Clone(before)
@@ -995,7 +886,7 @@ func TestReadsOnly(t *testing.T) {
 			callAll(mine)
 			checkOne(t, mine)
 			if !slices.Equal(memory, before) {
-				t.Errorf("the memory became %v, want %v", short(memory), short(before))
+				t.Errorf("the memory became %v, want %v", sample.Short(memory), sample.Short(before))
 			}
 		}
 	}
@@ -1032,7 +923,7 @@ func TestJoinReadsOnly(t *testing.T) {
 // TestNewMemory: what is written into an answer, or behind it, is neither in the argument nor in another answer.
 func TestNewMemory(t *testing.T) {
 	for _, l := range [][]api.Record{
-		list(rec(3, 0, 5)), list(rec(3, 0, 5), rec(2, 5, 9)), list(rec(3, 0, 5), rec(3, 5, 9), rec(0, 9, 12)), chain(0, [2]int{0, 1}, [2]int{1, 1}, [2]int{2, 1}, [2]int{3, 1}, [2]int{0, 1}),
+		list(rec(3, 0, 5)), list(rec(3, 0, 5), rec(2, 5, 9)), list(rec(3, 0, 5), rec(3, 5, 9), rec(0, 9, 12)), sample.Chain(0, [2]int{0, 1}, [2]int{1, 1}, [2]int{2, 1}, [2]int{3, 1}, [2]int{0, 1}),
 	} {
 		before := slices.Clone(l)
 		want := plainOf(l).normal()
