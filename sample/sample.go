@@ -130,5 +130,27 @@ func Wrong() []WrongList {
 	}
 }
 
+// All are lists that are timelines, and others that are none.
+func All() [][]api.Record {
+	l := Right()
+	for _, w := range Wrong() {
+		l = append(l, w.L)
+	}
+	return l
+}
+
+// Amid hands the list to the call as a piece of a longer one, once among records that are wrong and once among ones that are right, and tells whether all of that reads as before behind it.
+func Amid(l []api.Record, call func(mine []api.Record)) bool {
+	for _, beside := range List(Rec(9, -9, -9), Rec(3, 0, 40320)) {
+		before := slices.Concat(List(beside), l, List(beside, beside))
+		memory := slices.Clone(before)
+		call(memory[1 : 1+len(l)])
+		if !slices.Equal(memory, before) {
+			return false
+		}
+	}
+	return true
+}
+
 // Short is the begin of a list, as much of it as a failure tells.
 func Short[T any](l []T) []T { return l[:min(len(l), 8)] }
