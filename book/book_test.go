@@ -8,6 +8,7 @@ import (
 
 	"haulier/api"
 	"haulier/book"
+	"haulier/sample"
 )
 
 // names: those of the numbers, in the order of api's fields.
@@ -52,35 +53,12 @@ func europe() []int {
 	return []int{270, 45, 15, 30, 540, 600, 2, 660, 540, 3, 180, 1440, 2700, 1440, 8640, 3360, 5400, 3600, 10080}
 }
 
-// lowest: each of its numbers is the least that it may be in any book.
-func lowest() api.Book {
-	b := each(1)
-	b.Longers, b.Reduces, b.Round = 0, 0, 2
-	return b
-}
-
-// highest: each of its numbers is the greatest that it may be in any book.
-func highest() api.Book {
-	b := each(40320)
-	b.Longers, b.Reduces = 1000, 1000
-	b.First, b.Second, b.Break, b.Part, b.Reduced = 40319, 40319, 40319, 40319, 40319
-	return b
-}
-
-// wide: a book whose numbers are all different, and lie far from each other where one is not above the other.
-func wide() api.Book {
-	return api.Book{
-		Drive: 5, First: 1, Second: 2, Break: 101, Part: 201, Reduced: 301, Regular: 401, Short: 501, Weekly: 601, Round: 1301,
-		Day: 700, Longer: 900, Longers: 6, Reduces: 7, Rounds: 2000, Week: 3000, Fortnight: 3100, Labour: 3200, Length: 10000,
-	}
-}
-
-// right: books that may be.
-func right() []api.Book { return []api.Book{book.Europe(), lowest(), highest(), wide()} }
+var lowest, highest, wide, right = sample.Lowest, sample.Highest, sample.Wide, sample.Books
 
 // wrong: books that may not be.
 func wrong() []api.Book {
-	return []api.Book{{}, each(1), each(1000), each(40320), each(-1), each(math.MinInt), each(math.MaxInt), counted(1, 1), counted(-9, 1), counted(math.MinInt, 1), counted(math.MaxInt-18, 1), counted(100, -3)}
+	l := []api.Book{each(1), each(1000), each(40320), each(-1), each(math.MinInt), each(math.MaxInt), counted(1, 1), counted(-9, 1), counted(math.MinInt, 1), counted(math.MaxInt-18, 1), counted(100, -3)}
+	return append(l, sample.NoBooks()...)
 }
 
 // edges: numbers beside the limits, and at the ends of 64 bits.

@@ -1,0 +1,80 @@
+package sample
+
+import (
+	"haulier/api"
+	"haulier/book"
+)
+
+// Lowest is the book of which each number is the least that it may be in any book.
+func Lowest() api.Book {
+	return api.Book{
+		Drive: 1, First: 1, Second: 1, Break: 1, Part: 1, Reduced: 1, Regular: 1, Short: 1, Weekly: 1, Round: 2,
+		Day: 1, Longer: 1, Rounds: 1, Week: 1, Fortnight: 1, Labour: 1, Length: 1,
+	}
+}
+
+// Highest is the book of which each number is the greatest that it may be in any book.
+func Highest() api.Book {
+	return api.Book{
+		Drive: 40320, First: 40319, Second: 40319, Break: 40319, Part: 40319, Reduced: 40319, Regular: 40320, Short: 40320, Weekly: 40320, Round: 40320,
+		Day: 40320, Longer: 40320, Longers: 1000, Reduces: 1000, Rounds: 40320, Week: 40320, Fortnight: 40320, Labour: 40320, Length: 40320,
+	}
+}
+
+// Wide is a book whose numbers are all different, and lie far from each other where one is not above the other.
+func Wide() api.Book {
+	return api.Book{
+		Drive: 5, First: 1, Second: 2, Break: 101, Part: 201, Reduced: 301, Regular: 401, Short: 501, Weekly: 601, Round: 1301,
+		Day: 700, Longer: 900, Longers: 6, Reduces: 7, Rounds: 2000, Week: 3000, Fortnight: 3100, Labour: 3200, Length: 10000,
+	}
+}
+
+// Books are books that may be.
+func Books() []api.Book { return []api.Book{book.Europe(), Lowest(), Highest(), Wide()} }
+
+// NoBooks are books that may not be: a wide one of which a number is beyond its limits, or above one that it may not be above, for each number and each two of them; and one of nothing but noughts.
+func NoBooks() []api.Book {
+	l := []api.Book{{}}
+	one := Wide()
+	for _, n := range numbers(&one) {
+		before := *n
+		for _, beyond := range beyond(n == &one.Longers || n == &one.Reduces) {
+			*n = beyond
+			l = append(l, one)
+		}
+		*n = before
+	}
+	for _, o := range orders(&one) {
+		low, high := o[0], o[1]
+		before := *low
+		*low = *high + 1
+		l = append(l, one)
+		*low = before
+	}
+	one.Reduced, one.Regular, one.Short, one.Weekly = one.Round, one.Round, one.Round, one.Round
+	return append(l, one)
+}
+
+// beyond are the numbers just beyond the limits of a count, or of another number.
+func beyond(count bool) []int {
+	if count {
+		return []int{-1, 1001}
+	}
+	return []int{0, 40321}
+}
+
+// numbers are the places of a book's numbers, in the order of api's fields.
+func numbers(b *api.Book) []*int {
+	return []*int{
+		&b.Drive, &b.Break, &b.First, &b.Second, &b.Day, &b.Longer, &b.Longers, &b.Regular, &b.Reduced, &b.Reduces,
+		&b.Part, &b.Round, &b.Weekly, &b.Short, &b.Rounds, &b.Week, &b.Fortnight, &b.Labour, &b.Length,
+	}
+}
+
+// orders are the places of each two numbers of which the first may not be above the second.
+func orders(b *api.Book) [][2]*int {
+	return [][2]*int{
+		{&b.First, &b.Break}, {&b.Second, &b.Break}, {&b.Break, &b.Part}, {&b.Part, &b.Reduced},
+		{&b.Reduced, &b.Regular}, {&b.Regular, &b.Short}, {&b.Short, &b.Weekly}, {&b.Day, &b.Longer},
+	}
+}
