@@ -1,6 +1,8 @@
 package sample
 
 import (
+	"math"
+
 	"haulier/api"
 	"haulier/book"
 )
@@ -32,6 +34,39 @@ func Wide() api.Book {
 // Books are books that may be.
 func Books() []api.Book { return []api.Book{book.Europe(), Lowest(), Highest(), Wide()} }
 
+// Changed is the European book, changed.
+func Changed(change func(b *api.Book)) api.Book {
+	b := book.Europe()
+	change(&b)
+	return b
+}
+
+// Others are more books that may be: the European one with numbers the same that differ in it, or the other way round.
+func Others() []api.Book {
+	return []api.Book{
+		Changed(func(b *api.Book) { b.First, b.Second = 30, 15 }),
+		Changed(func(b *api.Book) { b.First, b.Second = 20, 20 }),
+		Changed(func(b *api.Book) { b.Second = 45 }),
+		Changed(func(b *api.Book) { b.First = 45 }),
+		Changed(func(b *api.Book) { b.First, b.Second = 45, 45 }),
+		Changed(func(b *api.Book) { b.First, b.Second = 1, 1 }),
+		Changed(func(b *api.Book) { b.Part = 45 }),
+		Changed(func(b *api.Book) { b.Part = 540 }),
+		Changed(func(b *api.Book) { b.Break, b.Part = 540, 540 }),
+		Changed(func(b *api.Book) { b.Regular = 540 }),
+		Changed(func(b *api.Book) { b.Regular = 1440 }),
+		Changed(func(b *api.Book) { b.Weekly = 1440 }),
+		Changed(func(b *api.Book) { b.Round = 541 }),
+		Changed(func(b *api.Book) { b.Round = 40320 }),
+		Late(),
+	}
+}
+
+// Late is a book in which a regular rest is longer than a round.
+func Late() api.Book {
+	return Changed(func(b *api.Book) { b.Reduced, b.Round, b.Regular, b.Short = 300, 400, 1500, 1600 })
+}
+
 // NoBooks are books that may not be: a wide one of which a number is beyond its limits, or above one that it may not be above, for each number and each two of them; and one of nothing but noughts.
 func NoBooks() []api.Book {
 	l := []api.Book{{}}
@@ -55,12 +90,12 @@ func NoBooks() []api.Book {
 	return append(l, one)
 }
 
-// beyond are the numbers just beyond the limits of a count, or of another number.
+// beyond are numbers beyond the limits of a count, or of another number: just, and at both ends of 64 bits.
 func beyond(count bool) []int {
 	if count {
-		return []int{-1, 1001}
+		return []int{math.MinInt, -1, 1001, math.MaxInt}
 	}
-	return []int{0, 40321}
+	return []int{math.MinInt, 0, 40321, math.MaxInt}
 }
 
 // numbers are the places of a book's numbers, in the order of api's fields.

@@ -136,41 +136,8 @@ func lengths(b api.Book) []int {
 	return slices.DeleteFunc(slices.Compact(l), func(n int) bool { return n < 1 || n > 40320 })
 }
 
-// others: books that may be, in which numbers are the same that differ in the European one, or lie the other way round.
-func others() []api.Book {
-	with := func(change func(b *api.Book)) api.Book {
-		b := book.Europe()
-		change(&b)
-		return b
-	}
-	return []api.Book{
-		with(func(b *api.Book) { b.First, b.Second = 30, 15 }),
-		with(func(b *api.Book) { b.First, b.Second = 20, 20 }),
-		with(func(b *api.Book) { b.Second = 45 }),
-		with(func(b *api.Book) { b.First = 45 }),
-		with(func(b *api.Book) { b.First, b.Second = 45, 45 }),
-		with(func(b *api.Book) { b.First, b.Second = 1, 1 }),
-		with(func(b *api.Book) { b.Part = 45 }),
-		with(func(b *api.Book) { b.Part = 540 }),
-		with(func(b *api.Book) { b.Break, b.Part = 540, 540 }),
-		with(func(b *api.Book) { b.Regular = 540 }),
-		with(func(b *api.Book) { b.Regular = 1440 }),
-		with(func(b *api.Book) { b.Weekly = 1440 }),
-		with(func(b *api.Book) { b.Round = 541 }),
-		with(func(b *api.Book) { b.Round = 40320 }),
-		late(),
-	}
-}
-
-// late: a book in which a regular rest is longer than a round.
-func late() api.Book {
-	b := book.Europe()
-	b.Reduced, b.Round, b.Regular, b.Short = 300, 400, 1500, 1600
-	return b
-}
-
 // may: books that may be.
-func may() []api.Book { return slices.Concat(sample.Books(), others()) }
+func may() []api.Book { return slices.Concat(sample.Books(), sample.Others()) }
 
 // TestBooks: the books that the tests are of.
 func TestBooks(t *testing.T) {
@@ -301,10 +268,10 @@ func TestOthers(t *testing.T) {
 	b.Weekly = 1440
 	checkTold(t, asked{b, span(0, 1439), 0, false, true}, "Break Daily")
 	checkTold(t, asked{b, span(0, 1440), 0, false, false}, "Break Daily Weekly")
-	checkTold(t, asked{late(), span(0, 1500), 0, false, false}, "Break Daily Reduced")
-	checkTold(t, asked{late(), span(0, 1599), 0, false, false}, "Break Daily Reduced")
-	checkTold(t, asked{late(), span(0, 1599), 0, false, true}, "Break Daily")
-	checkTold(t, asked{late(), span(0, 1600), 0, false, false}, "Break Daily Weekly Brief")
+	checkTold(t, asked{sample.Late(), span(0, 1500), 0, false, false}, "Break Daily Reduced")
+	checkTold(t, asked{sample.Late(), span(0, 1599), 0, false, false}, "Break Daily Reduced")
+	checkTold(t, asked{sample.Late(), span(0, 1599), 0, false, true}, "Break Daily")
+	checkTold(t, asked{sample.Late(), span(0, 1600), 0, false, false}, "Break Daily Weekly Brief")
 	low, high := sample.Lowest(), sample.Highest()
 	checkTold(t, asked{low, span(0, 1), 0, false, false}, "Break Daily Weekly")
 	checkTold(t, asked{low, span(40319, 40320), 40319, true, true}, "Break Daily Weekly")
@@ -367,7 +334,7 @@ func TestNoBook(t *testing.T) {
 
 // TestEdges: spans and dawns at all edges, by books that may be and one that may not.
 func TestEdges(t *testing.T) {
-	for _, b := range append(sample.Books(), late(), api.Book{}) {
+	for _, b := range append(sample.Books(), sample.Late(), api.Book{}) {
 		for _, from := range sample.Minutes() {
 			for _, to := range sample.Minutes() {
 				for _, dawn := range sample.Minutes() {
@@ -523,7 +490,7 @@ func TestLast(t *testing.T) {
 	}{
 		{book.Europe(), 0, 900, 780}, {book.Europe(), 1, 901, 781}, {book.Europe(), 8000, 8900, 8780},
 		{book.Europe(), 40319, 41219, 41099}, {book.Europe(), 40320, 41220, 41100},
-		{late(), 0, 100, 0}, {late(), 1098, 1198, 0}, {late(), 1099, 1199, 0}, {late(), 1100, 1200, 0}, {late(), 1101, 1201, 1}, {late(), 1102, 1202, 2}, {late(), 40320, 40420, 39220},
+		{sample.Late(), 0, 100, 0}, {sample.Late(), 1098, 1198, 0}, {sample.Late(), 1099, 1199, 0}, {sample.Late(), 1100, 1200, 0}, {sample.Late(), 1101, 1201, 1}, {sample.Late(), 1102, 1202, 2}, {sample.Late(), 40320, 40420, 39220},
 		{sample.Lowest(), 0, 1, 1}, {sample.Lowest(), 40320, 40321, 40321},
 		{sample.Highest(), 0, 1, 0}, {sample.Highest(), 1, 2, 1}, {sample.Highest(), 40320, 40321, 40320},
 		{sample.Wide(), 0, 1000, 900}, {sample.Wide(), 300, 1300, 1200},
