@@ -15,7 +15,17 @@ import (
 	"haulier/view"
 )
 
-var span = sample.Span
+// What is said often here, in short.
+var (
+	span    = sample.Span
+	with    = sample.With
+	may     = sample.May
+	tiny    = sample.Tiny
+	small   = sample.TinyBooks
+	busy    = sample.Busy
+	full    = sample.Full
+	numbers = sample.MeterNumbers
+)
 
 // set: the set of the clauses, each of which is told once.
 func set(clauses ...int) int {
@@ -44,58 +54,6 @@ func told(set int) string {
 	return strings.Join(l, " ")
 }
 
-// with: the meter, changed.
-func with(m api.Meter, change func(m *api.Meter)) api.Meter {
-	change(&m)
-	return m
-}
-
-// may: books that may be.
-func may() []api.Book { return slices.Concat(sample.Books(), sample.Others(), small()) }
-
-// tiny: a book of small numbers, by which each clause is soon broken.
-func tiny() api.Book {
-	return api.Book{
-		Drive: 2, First: 1, Second: 1, Break: 2, Part: 2, Reduced: 3, Regular: 4, Short: 5, Weekly: 6, Round: 7,
-		Day: 3, Longer: 4, Longers: 1, Reduces: 1, Rounds: 12, Week: 5, Fortnight: 8, Labour: 6, Length: 7,
-	}
-}
-
-// small: books of small numbers that may be: the tiny one, and each in which some of its numbers are others.
-func small() []api.Book {
-	l := []api.Book{tiny()}
-	for i := range book.Fields {
-		for _, more := range []int{-2, -1, 1, 2} {
-			numbers := book.Numbers(tiny())
-			numbers[i] += more
-			if b, err := book.From(numbers); err == api.OK {
-				l = append(l, b)
-			}
-		}
-	}
-	for _, change := range []func(b *api.Book){
-		func(b *api.Book) { b.Longers, b.Reduces = 0, 0 },
-		func(b *api.Book) { b.Length = 1 },
-		func(b *api.Book) { b.Length = 3 },
-		func(b *api.Book) { b.Day, b.Longer = 1, 1 },
-		func(b *api.Book) { b.Day, b.Longer, b.Longers = 1, 3, 0 },
-		func(b *api.Book) { b.First, b.Second, b.Break, b.Part = 2, 1, 3, 3 },
-		func(b *api.Book) { b.First, b.Second, b.Break, b.Part = 1, 2, 3, 3 },
-		func(b *api.Book) { b.Part, b.Break, b.First, b.Second = 1, 1, 1, 1 },
-		func(b *api.Book) { b.Part, b.Break, b.First, b.Second, b.Reduced, b.Regular = 1, 1, 1, 1, 2, 3 },
-		func(b *api.Book) {
-			b.Part, b.Break, b.Reduced, b.Regular, b.Short, b.Weekly, b.Reduces = 1, 1, 1, 2, 2, 3, 0
-		},
-		func(b *api.Book) { b.Round, b.Rounds, b.Regular, b.Short, b.Weekly = 4, 3, 5, 5, 7 },
-		func(b *api.Book) { b.Fortnight, b.Week = 2, 3 },
-	} {
-		b := tiny()
-		change(&b)
-		l = append(l, b)
-	}
-	return l
-}
-
 // TestBooks: the small books.
 func TestBooks(t *testing.T) {
 	for _, b := range small() {
@@ -106,46 +64,6 @@ func TestBooks(t *testing.T) {
 	if n := len(small()); n < 50 {
 		t.Errorf("the test itself: there are but %d small books", n)
 	}
-}
-
-// numbers: the places of a meter's numbers but Now, in the order of api's fields.
-func numbers(m *api.Meter) []*int {
-	return []*int{&m.Acc, &m.Lie, &m.Dawn, &m.Day, &m.Longers, &m.Reduces, &m.Sabbath, &m.Week, &m.Last, &m.Labour}
-}
-
-// busy: a meter all of whose numbers are different, by which no minute breaks a clause of the European book.
-func busy() api.Meter {
-	return api.Meter{
-		Now: 5000, Acc: 100, Half: true, Dawn: 4500, Day: 200, Longers: 1, Split: true, Reduces: 2,
-		Sabbath: 2100, Brief: true, Week: 900, Last: 3000, Labour: 1300,
-	}
-}
-
-// full: a meter all of whose numbers are as great as they may be, with that Now.
-func full(now int) api.Meter {
-	return api.Meter{
-		Now: now, Acc: now, Half: true, Lie: now, Dawn: now, Day: now, Longers: now, Split: true, Reduces: now,
-		Sabbath: now, Brief: true, Week: now, Last: now, Labour: now,
-	}
-}
-
-// noMeters: meters that may not be: of Now, and of each other number, each that is beyond its limits.
-func noMeters() []api.Meter {
-	l := []api.Meter{full(40321), full(math.MaxInt), full(-1)}
-	for _, now := range []int{-1, -2, math.MinInt, 40321, 40322, 1 << 32, math.MaxInt} {
-		l = append(l, api.Meter{Now: now}, with(busy(), func(m *api.Meter) { m.Now = now }))
-	}
-	for _, now := range []int{0, 1, 5000, 40319, 40320} {
-		for i := range numbers(&api.Meter{}) {
-			for _, n := range []int{-1, -2, math.MinInt, now + 1, now + 2, 1 << 32, math.MaxInt} {
-				for _, m := range []api.Meter{{Now: now}, full(now)} {
-					*numbers(&m)[i] = n
-					l = append(l, m)
-				}
-			}
-		}
-	}
-	return l
 }
 
 // TestCheck: the limits of Now, and of each other number.
@@ -166,7 +84,7 @@ func TestCheck(t *testing.T) {
 	}
 	checkMay(t, api.Meter{}, api.OK)
 	checkMay(t, busy(), api.OK)
-	for _, m := range noMeters() {
+	for _, m := range sample.NoMeters() {
 		checkMay(t, m, api.ErrArg)
 	}
 	for _, now := range sample.Minutes() {
@@ -597,15 +515,10 @@ func TestSets(t *testing.T) {
 	}
 }
 
-// badMeters: some meters that may not be, for what comes first of several errors.
-func badMeters() []api.Meter {
-	return []api.Meter{{Now: -1}, {Now: 40321}, {Now: math.MinInt}, {Now: math.MaxInt}, {Acc: 1}, {Now: 40320, Labour: -1}, full(-1), full(40321), {Now: 5, Lie: 6}}
-}
-
 // TestStepErrors: each error, and which one comes first.
 func TestStepErrors(t *testing.T) {
 	for _, b := range sample.NoBooks() {
-		for _, m := range append(badMeters(), api.Meter{}, busy(), api.Meter{Now: 40320}) {
+		for _, m := range append(sample.BadMeters(), api.Meter{}, busy(), api.Meter{Now: 40320}) {
 			for _, kind := range append(sample.NoKinds(), 0, 1, 2, 3) {
 				checkErr(t, b, m, api.ErrBook, kind)
 			}
@@ -614,7 +527,7 @@ func TestStepErrors(t *testing.T) {
 		}
 	}
 	for _, b := range may() {
-		for _, m := range badMeters() {
+		for _, m := range sample.BadMeters() {
 			for _, kind := range append(sample.NoKinds(), 0, 1, 2, 3) {
 				checkErr(t, b, m, api.ErrArg, kind)
 			}
@@ -635,7 +548,7 @@ func TestStepErrors(t *testing.T) {
 			}
 		}
 	}
-	for _, m := range noMeters() {
+	for _, m := range sample.NoMeters() {
 		for kind := -1; kind <= api.Kinds; kind++ {
 			checkErr(t, book.Europe(), m, api.ErrArg, kind)
 		}
@@ -1017,41 +930,12 @@ func TestLawful(t *testing.T) {
 	}
 }
 
-// edges: numbers at which a meter's one number may matter by the book, that may be with that Now.
-func edges(b api.Book, now int) []int {
-	var l []int
-	for _, n := range append(book.Numbers(b), b.Round-b.Reduced, now-b.Round, now-(b.Round-b.Reduced), now-b.Rounds, now, 0) {
-		l = append(l, n-1, n, n+1)
-	}
-	slices.Sort(l)
-	return slices.DeleteFunc(slices.Compact(l), func(n int) bool { return n < 0 || n > now })
-}
-
-// anyMeter: a meter that may be, whether a timeline comes to it or not.
-func anyMeter(draws *rand.Rand, b api.Book) api.Meter {
-	nows := edges(b, api.MaxTime)
-	m := api.Meter{Now: nows[draws.Intn(len(nows))], Half: draws.Intn(2) == 0, Split: draws.Intn(2) == 0, Brief: draws.Intn(2) == 0}
-	if draws.Intn(2) == 0 {
-		m.Now = min(b.Length*draws.Intn(5), api.MaxTime)
-	}
-	l := edges(b, m.Now)
-	for _, n := range numbers(&m) {
-		if draws.Intn(3) > 0 {
-			*n = l[draws.Intn(len(l))]
-		}
-	}
-	if draws.Intn(3) == 0 {
-		m.Lie = 0
-	}
-	return m
-}
-
 // TestAny: meters of all kinds, by all books, against the document word by word.
 func TestAny(t *testing.T) {
 	draws := chance(5)
 	for _, b := range may() {
 		for range 1500 {
-			m := anyMeter(draws, b)
+			m := sample.AnyMeter(draws.Intn, b)
 			if meter.Check(m) != api.OK || !plainCheck(m) {
 				t.Fatalf("the test itself: %+v may not be", m)
 			}
@@ -1071,7 +955,7 @@ func TestParts(t *testing.T) {
 	draws := chance(7)
 	for _, b := range may() {
 		for range 6 {
-			m := anyMeter(draws, b)
+			m := sample.AnyMeter(draws.Intn, b)
 			var kinds []int
 			for len(kinds) < 40 {
 				kinds = append(kinds, slices.Repeat([]int{draws.Intn(4)}, 1+draws.Intn(6))...)

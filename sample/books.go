@@ -2,6 +2,7 @@ package sample
 
 import (
 	"math"
+	"slices"
 
 	"haulier/api"
 	"haulier/book"
@@ -66,6 +67,52 @@ func Others() []api.Book {
 func Late() api.Book {
 	return Changed(func(b *api.Book) { b.Reduced, b.Round, b.Regular, b.Short = 300, 400, 1500, 1600 })
 }
+
+// Tiny is a book of small numbers, by which each clause is soon broken.
+func Tiny() api.Book {
+	return api.Book{
+		Drive: 2, First: 1, Second: 1, Break: 2, Part: 2, Reduced: 3, Regular: 4, Short: 5, Weekly: 6, Round: 7,
+		Day: 3, Longer: 4, Longers: 1, Reduces: 1, Rounds: 12, Week: 5, Fortnight: 8, Labour: 6, Length: 7,
+	}
+}
+
+// TinyBooks are books of small numbers that may be: the tiny one, and each in which some of its numbers are others.
+func TinyBooks() []api.Book {
+	l := []api.Book{Tiny()}
+	for i := range book.Fields {
+		for _, more := range []int{-2, -1, 1, 2} {
+			numbers := book.Numbers(Tiny())
+			numbers[i] += more
+			if b, err := book.From(numbers); err == api.OK {
+				l = append(l, b)
+			}
+		}
+	}
+	for _, change := range []func(b *api.Book){
+		func(b *api.Book) { b.Longers, b.Reduces = 0, 0 },
+		func(b *api.Book) { b.Length = 1 },
+		func(b *api.Book) { b.Length = 3 },
+		func(b *api.Book) { b.Day, b.Longer = 1, 1 },
+		func(b *api.Book) { b.Day, b.Longer, b.Longers = 1, 3, 0 },
+		func(b *api.Book) { b.First, b.Second, b.Break, b.Part = 2, 1, 3, 3 },
+		func(b *api.Book) { b.First, b.Second, b.Break, b.Part = 1, 2, 3, 3 },
+		func(b *api.Book) { b.Part, b.Break, b.First, b.Second = 1, 1, 1, 1 },
+		func(b *api.Book) { b.Part, b.Break, b.First, b.Second, b.Reduced, b.Regular = 1, 1, 1, 1, 2, 3 },
+		func(b *api.Book) {
+			b.Part, b.Break, b.Reduced, b.Regular, b.Short, b.Weekly, b.Reduces = 1, 1, 1, 2, 2, 3, 0
+		},
+		func(b *api.Book) { b.Round, b.Rounds, b.Regular, b.Short, b.Weekly = 4, 3, 5, 5, 7 },
+		func(b *api.Book) { b.Fortnight, b.Week = 2, 3 },
+	} {
+		b := Tiny()
+		change(&b)
+		l = append(l, b)
+	}
+	return l
+}
+
+// May are all these books that may be.
+func May() []api.Book { return slices.Concat(Books(), Others(), TinyBooks()) }
 
 // NoBooks are books that may not be: a wide one of which a number is beyond its limits, or above one that it may not be above, for each number and each two of them; and one of nothing but noughts.
 func NoBooks() []api.Book {
