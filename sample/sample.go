@@ -141,8 +141,13 @@ func All() [][]api.Record {
 
 // Amid hands the list to the call as a piece of a longer one, once among records that are wrong and once among ones that are right, and tells whether all of that reads as before behind it.
 func Amid(l []api.Record, call func(mine []api.Record)) bool {
-	for _, beside := range List(Rec(9, -9, -9), Rec(3, 0, 40320)) {
-		before := slices.Concat(List(beside), l, List(beside, beside))
+	return Among(l, List(Rec(9, -9, -9), Rec(3, 0, 40320)), call)
+}
+
+// Among hands the list to the call as a piece of a longer one, with each of those beside it in turn, and tells whether all of that reads as before behind it.
+func Among[T comparable](l, besides []T, call func(mine []T)) bool {
+	for _, beside := range besides {
+		before := slices.Concat([]T{beside}, l, []T{beside, beside})
 		memory := slices.Clone(before)
 		call(memory[1 : 1+len(l)])
 		if !slices.Equal(memory, before) {
