@@ -25,6 +25,7 @@ var (
 	busy    = sample.Busy
 	full    = sample.Full
 	numbers = sample.MeterNumbers
+	lawful  = sample.Lawful
 )
 
 // set: the set of the clauses, each of which is told once.
@@ -818,19 +819,6 @@ func checkSeen(t *testing.T, seen [10]int) {
 // chance: draws that are the same each time.
 func chance(seed int64) *rand.Rand { return rand.New(rand.NewSource(seed)) }
 
-// spells: how long spells of rest, and of anything else, are tried by the book: those at which it tells something else, one below and above them.
-func spells(b api.Book) (rests, ups []int) {
-	for off := -1; off <= 1; off++ {
-		for _, n := range []int{b.First, b.Second, b.Break, b.Part, b.Reduced, b.Regular, b.Short, b.Weekly} {
-			rests = append(rests, max(1, n+off))
-		}
-		for _, n := range []int{1, b.Drive, b.Drive / 2, b.Day / 2, b.Longer - b.Drive, b.Day - b.Drive, b.Drive / 3} {
-			ups = append(ups, max(1, n+off))
-		}
-	}
-	return rests, ups
-}
-
 // TestBackLong: timelines of spells at the edges, each minute of each against what looking back tells.
 func TestBackLong(t *testing.T) {
 	draws := chance(13)
@@ -849,41 +837,17 @@ func TestBackLong(t *testing.T) {
 	checkSeen(t, seen)
 }
 
-// long: goes on by spells at the edges, up to that minute.
+// long: goes on by a timeline of spells at the edges, up to that minute.
 func (w *walk) long(draws *rand.Rand, most int) {
-	rests, ups := spells(w.b)
 	var p past
 	m := api.Meter{}
-	for m.Now < most && !w.t.Failed() {
-		kind, n := api.Rest, rests[draws.Intn(len(rests))]
-		if draws.Intn(2) == 0 {
-			kind, n = 1+draws.Intn(3), ups[draws.Intn(len(ups))]
-			if draws.Intn(2) == 0 {
-				kind = api.Drive
-			}
-		}
-		for range min(n, most-m.Now) {
-			p = p.with(kind)
-			m = w.check(p, m, kind)
+	for _, kind := range view.Each(sample.AnyTimeline(draws.Intn, w.b, most)) {
+		p = p.with(kind)
+		m = w.check(p, m, kind)
+		if w.t.Failed() {
+			return
 		}
 	}
-}
-
-// lawful: four weeks by the European book that break nothing, and are as full as they may be: breaks in two parts, 540 minutes of driving and 180 of work on five days, three reduced daily rests, and a regular one that ends with its round, in a row; a weekly rest of 2700 minutes that ends with the week.
-func lawful() []api.Record {
-	var l [][2]int
-	day := func(behind ...[2]int) {
-		l = append(l, [2]int{3, 135}, [2]int{0, 15}, [2]int{3, 135}, [2]int{0, 30}, [2]int{3, 270}, [2]int{2, 180})
-		l = append(l, behind...)
-	}
-	for range 4 {
-		for range 3 {
-			day([2]int{0, 540})
-		}
-		day([2]int{1, 15}, [2]int{0, 660})
-		day([2]int{0, 700}, [2]int{1, 560}, [2]int{0, 2700})
-	}
-	return sample.Chain(0, l...)
 }
 
 // TestLawful: by the European book weeks break nothing that are as full as they may be, and something, if the book is tighter by a minute.
