@@ -8,6 +8,7 @@ import (
 
 	"haulier/api"
 	"haulier/ivals"
+	"haulier/sample"
 )
 
 // ends: small numbers, some of them neighbours, and those at the limits of 64 bits, in order.
@@ -71,14 +72,7 @@ func longer(count int) [][]api.Span {
 }
 
 // has: the chapter's words, so that the tests lean on nothing that they test.
-func has(l []api.Span, m int) bool {
-	for _, s := range l {
-		if s.From <= m && m < s.To {
-			return true
-		}
-	}
-	return false
-}
+var has = sample.Has
 
 // setOf: the set of the minutes of which is tells, where from one of ends to the next one nothing changes.
 func setOf(is func(m int) bool) []api.Span {

@@ -35,16 +35,6 @@ func plainCheck(l []api.Span) api.Errno {
 	return api.OK
 }
 
-// has tells whether one of the spans has the minute.
-func has(l []api.Span, m int) bool {
-	for _, w := range l {
-		if w.From <= m && m < w.To {
-			return true
-		}
-	}
-	return false
-}
-
 // plainNext tells the least minute that is not below m: if there is one, it is m, or a span's first one.
 func plainNext(l []api.Span, m int) (int, bool) {
 	if has(l, m) {

@@ -11,25 +11,12 @@ import (
 )
 
 // What is said often here, in short.
-var span = sample.Span
-
-// spans: of each two ends, a span.
-func spans(ends ...int) []api.Span {
-	var l []api.Span
-	for i := 0; i+1 < len(ends); i += 2 {
-		l = append(l, span(ends[i], ends[i+1]))
-	}
-	return l
-}
-
-// apart: that many windows, a minute apart, from 0 on.
-func apart(count int) []api.Span {
-	var l []api.Span
-	for i := range count {
-		l = append(l, span(3*i, 3*i+2))
-	}
-	return l
-}
+var (
+	span  = sample.Span
+	spans = sample.Spans
+	apart = sample.Apart
+	has   = sample.Has
+)
 
 // day: the chapter's windows.
 func day() []api.Span { return spans(480, 720, 840, 960) }
@@ -107,101 +94,13 @@ func checkCheck(t *testing.T, l []api.Span, want api.Errno) {
 	}
 }
 
-// TestCheck: how many there are, and for each fault windows that have it, or just not.
+// TestCheck: windows that may be; and for each fault, and for several ones, such as may not be.
 func TestCheck(t *testing.T) {
-	for _, c := range []struct {
-		l    []api.Span
-		want api.Errno
-	}{
-		{nil, api.ErrNone},
-		{[]api.Span{}, api.ErrNone},
-		{spans(0, 1), api.OK},
-		{spans(0, 40320), api.OK},
-		{spans(40319, 40320), api.OK},
-		{apart(7), api.OK},
-		{apart(8), api.OK},
-		{apart(9), api.ErrMany},
-		{apart(10), api.ErrMany},
-		{apart(5000), api.ErrMany},
-		// One is empty, or ends ahead of its begin.
-		{spans(480, 480), api.ErrSpan},
-		{spans(480, 479), api.ErrSpan},
-		{spans(480, 720, 840, 840), api.ErrSpan},
-		{spans(480, 720, 960, 840), api.ErrSpan},
-		{spans(0, 0), api.ErrSpan},
-		{spans(40320, 40320), api.ErrSpan},
-		{spans(0, 1, 2, 3, 4, 5, 6, 7, 8, 9, 10, 11, 12, 13, 14, 14), api.ErrSpan},
-		{spans(math.MaxInt, math.MinInt), api.ErrSpan},
-		// One begins with 0, or a minute ahead; ends with MaxTime, or a minute behind.
-		{spans(0, 720, 840, 40320), api.OK},
-		{spans(-1, 720), api.ErrRange},
-		{spans(-1, 0), api.ErrRange},
-		{spans(-5, -2, 0, 720), api.ErrRange},
-		{spans(480, 40321), api.ErrRange},
-		{spans(480, 720, 840, 40321), api.ErrRange},
-		{spans(480, 720, 40320, 40321), api.ErrRange},
-		{spans(480, 720, 50000, 50001), api.ErrRange},
-		{spans(-1, 720, 840, 960), api.ErrRange},
-		{spans(math.MinInt, math.MaxInt), api.ErrRange},
-		{spans(math.MinInt, math.MinInt+1), api.ErrRange},
-		{spans(math.MaxInt-1, math.MaxInt), api.ErrRange},
-		// They touch, overlap, lie one in another, are the same, or stand in another order; or lie a minute apart.
-		{spans(480, 720, 721, 960), api.OK},
-		{spans(480, 720, 720, 960), api.ErrOverlap},
-		{spans(480, 720, 719, 960), api.ErrOverlap},
-		{spans(480, 720, 500, 600), api.ErrOverlap},
-		{spans(500, 600, 480, 720), api.ErrOverlap},
-		{spans(480, 720, 480, 600), api.ErrOverlap},
-		{spans(480, 720, 600, 720), api.ErrOverlap},
-		{spans(480, 720, 480, 720), api.ErrOverlap},
-		{spans(840, 960, 480, 720), api.ErrOverlap},
-		{spans(721, 960, 480, 720), api.ErrOverlap},
-		{spans(720, 960, 480, 720), api.ErrOverlap},
-		{spans(0, 1, 480, 720, 840, 960, 960, 961), api.ErrOverlap},
-		{spans(0, 1, 840, 960, 480, 720, 1000, 1001), api.ErrOverlap},
-		{spans(0, 1, 480, 720, 0, 1), api.ErrOverlap},
-	} {
-		checkCheck(t, c.l, c.want)
+	for _, l := range sample.Windows() {
+		checkCheck(t, l, api.OK)
 	}
-}
-
-// TestCheckFirst: which error comes first where several apply, whichever window has which fault.
-func TestCheckFirst(t *testing.T) {
-	for _, c := range []struct {
-		l    []api.Span
-		want api.Errno
-	}{
-		// Too many, and all else.
-		{append(apart(8), span(5, 5)), api.ErrMany},
-		{append(apart(8), span(-5, 40321)), api.ErrMany},
-		{append(apart(8), span(0, 1)), api.ErrMany},
-		{make([]api.Span, 9), api.ErrMany},
-		{slices.Repeat(spans(-1, -1), 9), api.ErrMany},
-		{slices.Repeat(spans(0, 40321), 9), api.ErrMany},
-		// Not right, and beyond the limits: the same one, and others ahead and behind.
-		{spans(-1, -1), api.ErrSpan},
-		{spans(40321, 40321), api.ErrSpan},
-		{spans(50000, -50000), api.ErrSpan},
-		{spans(-1, 5, 7, 7), api.ErrSpan},
-		{spans(7, 7, 9, 40321), api.ErrSpan},
-		{spans(0, 40321, 7, 6), api.ErrSpan},
-		// Not right, and no set.
-		{spans(480, 720, 500, 500), api.ErrSpan},
-		{spans(480, 720, 480, 720, 5, 5), api.ErrSpan},
-		{spans(5, 5, 480, 720, 480, 720), api.ErrSpan},
-		{spans(5, 5, 5, 5), api.ErrSpan},
-		// Beyond the limits, and no set.
-		{spans(-1, 5, -1, 5), api.ErrRange},
-		{spans(480, 720, 720, 960, 1000, 40321), api.ErrRange},
-		{spans(480, 720, 480, 720, -1, 5), api.ErrRange},
-		{spans(480, 720, -7, -5), api.ErrRange},
-		{spans(40320, 40321, 480, 720), api.ErrRange},
-		{spans(math.MinInt, math.MaxInt, math.MinInt, math.MaxInt), api.ErrRange},
-		// All three.
-		{spans(-1, 5, 4, 40321, 7, 7), api.ErrSpan},
-		{spans(7, 7, -1, 5, 4, 40321), api.ErrSpan},
-	} {
-		checkCheck(t, c.l, c.want)
+	for _, w := range sample.NoWindows() {
+		checkCheck(t, w.L, w.Err)
 	}
 }
 
