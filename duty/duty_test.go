@@ -5,7 +5,6 @@ import (
 	"math"
 	"math/rand"
 	"slices"
-	"strconv"
 	"strings"
 	"testing"
 
@@ -16,7 +15,6 @@ import (
 	"haulier/meter"
 	"haulier/record"
 	"haulier/sample"
-	"haulier/view"
 )
 
 var changed = sample.Changed
@@ -26,19 +24,8 @@ func find(c, from, to int) api.Finding { return api.Finding{Clause: c, From: fro
 // chance: draws that are the same each time.
 func chance(seed int64) *rand.Rand { return rand.New(rand.NewSource(seed)) }
 
-// did: the timeline from 0 on that is written as letters of kinds, each with how many minutes: "D270 R45".
-func did(text string) []api.Record {
-	var l [][2]int
-	for word := range strings.FieldsSeq(text) {
-		kind, ok := view.Kind(word[0])
-		n, err := strconv.Atoi(word[1:])
-		if !ok || err != nil {
-			panic("the test itself: no record: " + word)
-		}
-		l = append(l, [2]int{kind, n})
-	}
-	return sample.Chain(0, l...)
-}
+// did: the timeline from 0 on that is written so: "D270 R45".
+func did(text string) []api.Record { return sample.Did(0, text) }
 
 // times: a text of records, so many times, one behind the other.
 func times(n int, text string) string { return strings.Repeat(text+" ", n) }
@@ -63,7 +50,7 @@ func checkAudit(t *testing.T, b api.Book, l []api.Record, want ...api.Finding) {
 		t.Errorf("the test itself: looking back by %+v, of %s are found %v, and should be %v", b, head(l), got, want)
 	}
 	checkFound(t, b, l, want)
-	for _, same := range alike(l) {
+	for _, same := range sample.Alike(l) {
 		checkFound(t, b, same, want)
 	}
 	checkWitness(t, b, l, want)
@@ -82,23 +69,6 @@ func checkFound(t *testing.T, b api.Book, l []api.Record, want []api.Finding) {
 	if _, broken, err := meter.Of(b, l); duty.Set(got) != broken || err != api.OK {
 		t.Errorf("by %+v %s breaks, by layer 13, %v, and found is %v", b, head(l), clause.All(broken), got)
 	}
-}
-
-// alike: the same minutes in other records: as few as can be, each in two, one a minute.
-func alike(l []api.Record) [][]api.Record {
-	normal, _ := record.Normal(l)
-	var two, each []api.Record
-	for _, r := range l {
-		if half := (r.From + r.To) / 2; half > r.From {
-			two = append(two, sample.Rec(r.Kind, r.From, half), sample.Rec(r.Kind, half, r.To))
-		} else {
-			two = append(two, r)
-		}
-	}
-	for m, kind := range view.Each(l) {
-		each = append(each, sample.Rec(kind, m, m+1))
-	}
-	return [][]api.Record{normal, two, each}
 }
 
 // checkWitness: P16.4: of the timeline up to a finding's To the same is found, up to a minute less not; all else is found of either that ends by then.

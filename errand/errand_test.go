@@ -7,16 +7,10 @@ import (
 
 	"haulier/api"
 	"haulier/errand"
-	"haulier/sample"
 )
 
 // First minutes are an array of four.
 var _ = [4]int(errand.Firsts{})
-
-// journey is tasks of all sorts: with both, with a drive or a service alone, with nothing to do amid the others and at the end.
-func journey() []api.Task {
-	return []api.Task{task(2, 3, 5, 7, 20, 30), task(0, 0), task(4, 0), task(0, 2, 10, 12), task(3, 1, 0, 40320), task(0, 0), task(0, 0)}
-}
 
 // TestExample: the chapter's one.
 func TestExample(t *testing.T) {
@@ -35,56 +29,6 @@ func TestExample(t *testing.T) {
 	if !errand.Done(l, spot(1, 0, 0)) {
 		t.Error("all is not done")
 	}
-}
-
-// right are tasks each of which may be.
-func right() []api.Task {
-	l := []api.Task{{}, {Open: []api.Span{}}, task(1, 0), task(10079, 0), task(10080, 0), task(0, 1, 0, 1), task(0, 1440, 480, 720), task(10080, 1440, 480, 720, 840, 960)}
-	for _, open := range sample.Windows() {
-		l = append(l, api.Task{Serve: 1, Open: open}, api.Task{Drive: 10080, Serve: 1440, Open: open})
-	}
-	return l
-}
-
-// wrongTask is a task that may not be, and what is wrong with it first.
-type wrongTask struct {
-	task api.Task
-	err  api.Errno
-}
-
-// wrong are tasks none of which may be, for each error, and such as have several.
-func wrong() []wrongTask {
-	var l []wrongTask
-	for _, n := range []int{math.MinInt, -10080, -2, -1, 10081, 10082, 40320, 1 << 32, math.MaxInt} {
-		l = append(l,
-			wrongTask{task(n, 0), api.ErrRange},
-			wrongTask{task(n, 15, 480, 720), api.ErrRange},
-			// What is wrong with the windows too, or that there are any, is told later.
-			wrongTask{task(n, 15), api.ErrRange},
-			wrongTask{task(n, 15, 7, 7), api.ErrRange},
-			wrongTask{task(n, 0, 480, 720), api.ErrRange},
-			wrongTask{task(n, n, 480, 720), api.ErrRange})
-	}
-	for _, n := range []int{math.MinInt, -1440, -2, -1, 1441, 1442, 10080, 1 << 32, math.MaxInt} {
-		l = append(l,
-			wrongTask{task(0, n, 480, 720), api.ErrRange},
-			wrongTask{task(60, n, 480, 720), api.ErrRange},
-			wrongTask{task(60, n), api.ErrRange},
-			wrongTask{task(60, n, 7, 7), api.ErrRange})
-	}
-	for _, w := range sample.NoWindows() {
-		l = append(l,
-			wrongTask{api.Task{Drive: 60, Serve: 15, Open: w.L}, w.Err},
-			wrongTask{api.Task{Serve: 1, Open: w.L}, w.Err},
-			wrongTask{api.Task{Drive: 10080, Serve: 1440, Open: w.L}, w.Err})
-		if len(w.L) > 0 {
-			l = append(l, wrongTask{api.Task{Drive: 60, Open: w.L}, api.ErrArg})
-		}
-	}
-	for _, open := range sample.Windows() {
-		l = append(l, wrongTask{api.Task{Open: open}, api.ErrArg}, wrongTask{api.Task{Drive: 10080, Open: open}, api.ErrArg})
-	}
-	return l
 }
 
 func checkCheck(t *testing.T, l []api.Task, want api.Errno) {
@@ -118,18 +62,18 @@ func TestCheck(t *testing.T) {
 // TestCheckWrong: each task that may not be, alone, as the first one, amid others and as the last one; of several such the first one is told; but that there are too many is told ahead of all.
 func TestCheckWrong(t *testing.T) {
 	for _, w := range wrong() {
-		one := []api.Task{w.task}
-		checkCheck(t, one, w.err)
-		checkCheck(t, slices.Concat(one, right()), w.err)
-		checkCheck(t, slices.Concat(right(), one), w.err)
-		checkCheck(t, slices.Concat(right()[:2], one, right()), w.err)
-		checkCheck(t, slices.Concat(make([]api.Task, 2000), one), w.err)
-		checkCheck(t, slices.Concat(one, make([]api.Task, 2000)), w.err)
+		one := []api.Task{w.Task}
+		checkCheck(t, one, w.Err)
+		checkCheck(t, slices.Concat(one, right()), w.Err)
+		checkCheck(t, slices.Concat(right(), one), w.Err)
+		checkCheck(t, slices.Concat(right()[:2], one, right()), w.Err)
+		checkCheck(t, slices.Concat(make([]api.Task, 2000), one), w.Err)
+		checkCheck(t, slices.Concat(one, make([]api.Task, 2000)), w.Err)
 		checkCheck(t, slices.Concat(make([]api.Task, 2001), one), api.ErrMany)
 		checkCheck(t, slices.Concat(one, make([]api.Task, 2001)), api.ErrMany)
 		checkCheck(t, slices.Repeat(one, 2002), api.ErrMany)
 		for _, other := range wrong() {
-			checkCheck(t, []api.Task{w.task, other.task}, w.err)
+			checkCheck(t, []api.Task{w.Task, other.Task}, w.Err)
 		}
 	}
 }
@@ -149,9 +93,9 @@ func TestNumbers(t *testing.T) {
 // TestTasksThatMayNotBe: of these all calls tell what is wrong with them, whatever else is wrong.
 func TestTasksThatMayNotBe(t *testing.T) {
 	for _, w := range wrong() {
-		for _, l := range [][]api.Task{{w.task}, {w.task, task(5, 0)}, {task(5, 0), w.task}} {
+		for _, l := range [][]api.Task{{w.Task}, {w.Task, task(5, 0)}, {task(5, 0), w.Task}} {
 			for _, s := range []api.Spot{{}, spot(0, 3, 0), spot(1, 0, 0), spot(len(l), 0, 0), spot(-1, 0, 0), spot(0, 5, 5), spot(math.MaxInt, math.MinInt, math.MaxInt)} {
-				checkTold(t, l, s, w.err)
+				checkTold(t, l, s, w.Err)
 			}
 		}
 	}

@@ -111,22 +111,15 @@ func plainRecord(r api.Record) api.Errno {
 
 // What is said often here, in short.
 var (
-	span  = sample.Span
-	spans = sample.Spans
-	has   = sample.Has
-	rec   = sample.Rec
-	short = sample.Short[api.Task]
+	has     = sample.Has
+	rec     = sample.Rec
+	task    = sample.Task
+	spot    = sample.Spot
+	journey = sample.Journey
+	right   = sample.Tasks
+	wrong   = sample.NoTasks
+	short   = sample.Short[api.Task]
 )
-
-// task is a drive, and a service that begins within the spans of these ends.
-func task(drive, serve int, ends ...int) api.Task {
-	return api.Task{Drive: drive, Serve: serve, Open: spans(ends...)}
-}
-
-// spot is how many tasks are done, and how much of the next one is.
-func spot(done, driven, served int) api.Spot {
-	return api.Spot{Task: done, Driven: driven, Served: served}
-}
 
 // firsts are the first minutes of these clauses, each with its minute; no others are broken.
 func firsts(l ...[2]int) errand.Firsts {

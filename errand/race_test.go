@@ -11,34 +11,6 @@ import (
 	"haulier/sample"
 )
 
-// worlds hands on all lists of up to two small tasks, and of three that are smaller yet.
-func worlds(do func(l []api.Task)) {
-	var small, smaller []api.Task
-	for drive := range 3 {
-		small = append(small, task(drive, 0))
-		for serve := 1; serve < 3; serve++ {
-			small = append(small, task(drive, serve, 0, 1), task(drive, serve, 1, 2, 3, 4), task(drive, serve, 2, 5))
-		}
-	}
-	for drive := range 2 {
-		smaller = append(smaller, task(drive, 0), task(drive, 1, 1, 2), task(drive, 1, 0, 1, 2, 4), task(drive, 2, 0, 1, 3, 5))
-	}
-	do(nil)
-	for _, a := range small {
-		do([]api.Task{a})
-		for _, b := range small {
-			do([]api.Task{a, b})
-		}
-	}
-	for _, a := range smaller {
-		for _, b := range smaller {
-			for _, c := range smaller {
-				do([]api.Task{a, b, c})
-			}
-		}
-	}
-}
-
 // spotsAround are all spots of the tasks, right ones and such as lie beside these.
 func spotsAround(l []api.Task) []api.Spot {
 	var spots []api.Spot
@@ -54,7 +26,7 @@ func spotsAround(l []api.Task) []api.Spot {
 
 // TestSmallWorlds: of all small tasks all spots, minutes and records, against the chapter's words.
 func TestSmallWorlds(t *testing.T) {
-	worlds(func(l []api.Task) {
+	sample.SmallTasks(func(l []api.Task) {
 		for _, s := range spotsAround(l) {
 			checkSpot(t, l, s)
 			if !plainRight(l, s) {
@@ -74,54 +46,13 @@ func TestSmallWorlds(t *testing.T) {
 	})
 }
 
-// drawn is that many tasks, as draws tell: of drives and services up to a length, some of which are none, and windows that may be.
-func drawn(draw func(n int) int, count, long int) []api.Task {
-	var l []api.Task
-	for range count {
-		var one api.Task
-		if draw(4) > 0 {
-			one.Drive = draw(long)
-		}
-		if draw(2) > 0 {
-			one.Serve = 1 + draw(long)
-			at := draw(long)
-			for range 1 + draw(api.MaxOpen) {
-				one.Open = append(one.Open, span(at, at+1+draw(4*long)))
-				at = one.Open[len(one.Open)-1].To + 1 + draw(4*long)
-			}
-		}
-		l = append(l, one)
-	}
-	return l
-}
-
-// anySpot is a spot that is right, as draws tell.
-func anySpot(draw func(n int) int, l []api.Task) api.Spot {
-	s := spot(draw(len(l)+1), 0, 0)
-	if s.Task == len(l) {
-		return s
-	}
-	one := l[s.Task]
-	switch {
-	case one.Serve > 0 && draw(2) == 0:
-		return spot(s.Task, one.Drive, draw(one.Serve))
-	case one.Drive > 0:
-		return spot(s.Task, draw(one.Drive), 0)
-	case one.Serve > 0:
-		return s
-	}
-	// There is nothing to do in that task, so that no spot lies there.
-	s, _ = errand.Start(l)
-	return s
-}
-
 // TestSteps: of many tasks and spots, Over of a record is as Step minute by minute; a minute that breaks nothing takes one off what is left.
 func TestSteps(t *testing.T) {
 	draw := chance(19).Intn
 	spoilt, whole := 0, 0
 	for i := range 1500 {
-		l := drawn(draw, draw(10), []int{2, 5, 20, 100}[i%4])
-		from, kind, begin := anySpot(draw, l), draw(api.Kinds), draw(200)
+		l := sample.AnyTasks(draw, draw(10), []int{2, 5, 20, 100}[i%4])
+		from, kind, begin := sample.AnySpot(draw, l), draw(api.Kinds), draw(200)
 		s, f := from, firsts()
 		for m := begin; m < begin+1+draw(300); m++ {
 			after, broken := checkMinute(t, l, s, m, kind)
@@ -151,7 +82,7 @@ func TestSteps(t *testing.T) {
 func TestDone(t *testing.T) {
 	draw := chance(194).Intn
 	for i := range 300 {
-		l := drawn(draw, 1+draw(12), []int{2, 5, 20, 60}[i%4])
+		l := sample.AnyTasks(draw, 1+draw(12), []int{2, 5, 20, 60}[i%4])
 		// In the last window there is time for all that comes late.
 		for i := range l {
 			if n := len(l[i].Open); n > 0 {
@@ -222,28 +153,11 @@ func callAll(l []api.Task) []any {
 	return told
 }
 
-// amid are the same tasks, as a piece of longer memory, and so are their spans; what lies beside them, ahead and behind, would be told if it were read.
-func amid(l []api.Task) (memory []api.Task, windows []api.Span) {
-	beside := []api.Span{span(-9, 40330), span(0, 40320), span(5, 5)}
-	windows = slices.Clone(beside)
-	for _, one := range l {
-		windows = slices.Concat(windows, one.Open, beside)
-	}
-	memory = []api.Task{task(-5, 0), task(2, 1, 0, 40320)}
-	at := len(beside)
-	for _, one := range l {
-		end := at + len(one.Open)
-		memory = append(memory, api.Task{Drive: one.Drive, Serve: one.Serve, Open: windows[at:end]})
-		at = end + len(beside)
-	}
-	return append(memory, task(1, 0), task(-5, 0), task(0, 1, 0, 40320)), windows
-}
-
 // argumentTasks are tasks of all sorts, such as may be and others.
 func argumentTasks() [][]api.Task {
 	l := [][]api.Task{nil, journey(), right(), {task(0, 0), task(0, 0)}, slices.Repeat(journey(), 300)}
 	for _, w := range wrong() {
-		l = append(l, []api.Task{task(2, 3, 5, 7), w.task})
+		l = append(l, []api.Task{task(2, 3, 5, 7), w.Task})
 	}
 	return l
 }
@@ -252,8 +166,8 @@ func argumentTasks() [][]api.Task {
 func TestArguments(t *testing.T) {
 	for _, l := range argumentTasks() {
 		want := callAll(l)
-		memory, windows := amid(l)
-		before, beforeWindows := amid(l)
+		memory, windows := sample.AmidTasks(l)
+		before, beforeWindows := sample.AmidTasks(l)
 		mine := memory[2 : 2+len(l)]
 		if got := callAll(mine); !reflect.DeepEqual(got, want) {
 			t.Errorf("of %v amid other memory all that is told is %v, want %v", short(l), got, want)
@@ -268,7 +182,7 @@ func TestArguments(t *testing.T) {
 func TestNothingIsKept(t *testing.T) {
 	l := journey()
 	before := callAll(l)
-	l[0], l[3].Open[0] = task(2, 1, 6, 7), span(6, 9)
+	l[0], l[3].Open[0] = task(2, 1, 6, 7), sample.Span(6, 9)
 	if !reflect.DeepEqual(callAll(l), callAll(slices.Clone(l))) {
 		t.Error("other tasks in the same memory are told otherwise than in new one")
 	}
@@ -295,7 +209,7 @@ func TestAnyNumbers(t *testing.T) {
 		}
 		s := spot(one(), one(), one())
 		if draw(2) == 0 {
-			s = anySpot(draw, journey())
+			s = sample.AnySpot(draw, journey())
 		}
 		m, kind := one(), one()
 		want := plainCheck(l)

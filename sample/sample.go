@@ -1,4 +1,4 @@
-// Package sample has what tests of several layers are made of: records, spans, timelines, books, meters, and numbers at the edges. No layer calls it.
+// Package sample has what tests of several layers are made of: records, spans, timelines, books, meters, windows, tasks, and numbers at the edges. No layer calls it.
 package sample
 
 import (

@@ -1,6 +1,46 @@
 package sample
 
-import "haulier/api"
+import (
+	"strconv"
+	"strings"
+
+	"haulier/api"
+)
+
+// Did is the timeline from a minute on that is written as letters of kinds, each with how many minutes: "D270 R45".
+func Did(from int, text string) []api.Record {
+	var l [][2]int
+	for word := range strings.FieldsSeq(text) {
+		kind := strings.IndexByte("RAWD", word[0])
+		n, err := strconv.Atoi(word[1:])
+		if kind < 0 || err != nil {
+			panic("the test itself: no record: " + word)
+		}
+		l = append(l, [2]int{kind, n})
+	}
+	return Chain(from, l...)
+}
+
+// Alike are the same minutes in other records: as few as can be, each in two, one a minute.
+func Alike(l []api.Record) [][]api.Record {
+	var few, two, each []api.Record
+	for _, r := range l {
+		if end := len(few) - 1; end >= 0 && few[end].Kind == r.Kind {
+			few[end].To = r.To
+		} else {
+			few = append(few, r)
+		}
+		half := (r.From + r.To) / 2
+		if half > r.From {
+			two = append(two, Rec(r.Kind, r.From, half))
+		}
+		two = append(two, Rec(r.Kind, half, r.To))
+		for m := r.From; m < r.To; m++ {
+			each = append(each, Rec(r.Kind, m, m+1))
+		}
+	}
+	return [][]api.Record{few, two, each}
+}
 
 // Lawful are four weeks by the European book that break nothing, and are as full as they may be: breaks in two parts, 540 minutes of driving and 180 of work on five days, three reduced daily rests, and a regular one that ends with its round, in a row; a weekly rest of 2700 minutes that ends with the week.
 func Lawful() []api.Record {
