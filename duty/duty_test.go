@@ -17,7 +17,10 @@ import (
 	"haulier/sample"
 )
 
-var changed = sample.Changed
+var (
+	changed = sample.Changed
+	roomy   = sample.Roomy
+)
 
 func find(c, from, to int) api.Finding { return api.Finding{Clause: c, From: from, To: to} }
 
@@ -32,16 +35,6 @@ func times(n int, text string) string { return strings.Repeat(text+" ", n) }
 
 // head: a timeline as a failure tells it.
 func head(l []api.Record) string { return fmt.Sprintf("%v: %d records", sample.Short(l), len(l)) }
-
-// roomy: the European book without any limit but those of rests, changed.
-func roomy(change func(b *api.Book)) api.Book {
-	b := changed(func(b *api.Book) {
-		b.Drive, b.Day, b.Longer, b.Week, b.Fortnight, b.Labour = 40320, 40320, 40320, 40320, 40320, 40320
-		b.Round, b.Rounds, b.Longers, b.Reduces = 40320, 40320, 1000, 1000
-	})
-	change(&b)
-	return b
-}
 
 // checkAudit: this is what is found of the timeline, by what looks back from each minute, too; the same of the same minutes in other records; P16.3 and P16.4 hold.
 func checkAudit(t *testing.T, b api.Book, l []api.Record, want ...api.Finding) {

@@ -63,6 +63,16 @@ func Others() []api.Book {
 	}
 }
 
+// Roomy is the European book without any limit but those of rests, changed.
+func Roomy(change func(b *api.Book)) api.Book {
+	b := Changed(func(b *api.Book) {
+		b.Drive, b.Day, b.Longer, b.Week, b.Fortnight, b.Labour = 40320, 40320, 40320, 40320, 40320, 40320
+		b.Round, b.Rounds, b.Longers, b.Reduces = 40320, 40320, 1000, 1000
+	})
+	change(&b)
+	return b
+}
+
 // Late is a book in which a regular rest is longer than a round.
 func Late() api.Book {
 	return Changed(func(b *api.Book) { b.Reduced, b.Round, b.Regular, b.Short = 300, 400, 1500, 1600 })
@@ -118,7 +128,7 @@ func May() []api.Book { return slices.Concat(Books(), Others(), TinyBooks()) }
 func NoBooks() []api.Book {
 	l := []api.Book{{}}
 	one := Wide()
-	for _, n := range numbers(&one) {
+	for _, n := range BookNumbers(&one) {
 		before := *n
 		for _, beyond := range beyond(n == &one.Longers || n == &one.Reduces) {
 			*n = beyond
@@ -145,8 +155,8 @@ func beyond(count bool) []int {
 	return []int{math.MinInt, 0, 40321, math.MaxInt}
 }
 
-// numbers are the places of a book's numbers, in the order of api's fields.
-func numbers(b *api.Book) []*int {
+// BookNumbers are the places of a book's numbers, in the order of api's fields.
+func BookNumbers(b *api.Book) []*int {
 	return []*int{
 		&b.Drive, &b.Break, &b.First, &b.Second, &b.Day, &b.Longer, &b.Longers, &b.Regular, &b.Reduced, &b.Reduces,
 		&b.Part, &b.Round, &b.Weekly, &b.Short, &b.Rounds, &b.Week, &b.Fortnight, &b.Labour, &b.Length,

@@ -5,6 +5,7 @@ import (
 	"slices"
 
 	"haulier/api"
+	"haulier/errand"
 )
 
 // Task is a drive, and a service that begins within the spans of these ends.
@@ -121,6 +122,21 @@ func AnyTasks(draw func(n int) int, count, long int) []api.Task {
 	return l
 }
 
+// Spots are all spots of the tasks that are right.
+func Spots(l []api.Task) []api.Spot {
+	spots := []api.Spot{Spot(len(l), 0, 0)}
+	for i, one := range l {
+		for driven := range one.Drive + 1 {
+			for served := range one.Serve + 1 {
+				if s := Spot(i, driven, served); errand.Right(l, s) {
+					spots = append(spots, s)
+				}
+			}
+		}
+	}
+	return spots
+}
+
 // AnySpot is a spot of the tasks that is right, as draws below n tell.
 func AnySpot(draw func(n int) int, l []api.Task) api.Spot {
 	s := Spot(draw(len(l)+1), 0, 0)
@@ -136,6 +152,55 @@ func AnySpot(draw func(n int) int, l []api.Task) api.Spot {
 		return Spot(s.Task, one.Drive, draw(one.Serve))
 	}
 	return Spot(s.Task, draw(one.Drive), 0)
+}
+
+// AnyTrail is a timeline from that minute on of that many records, as draws below n tell; many of them are of what is due.
+func AnyTrail(draw func(n int) int, l []api.Task, s api.Spot, from, count, long int) []api.Record {
+	var r []api.Record
+	for range count {
+		kind, n := draw(api.Kinds), 1+draw(long)
+		if s.Task < len(l) && draw(4) > 0 {
+			kind = api.Work
+			if s.Driven < l[s.Task].Drive {
+				kind = api.Drive
+			}
+			if draw(2) == 0 {
+				n = l[s.Task].Drive - s.Driven
+				if n == 0 {
+					n = l[s.Task].Serve - s.Served
+				}
+			}
+		}
+		one := Rec(kind, from, from+n)
+		s, _, _ = errand.Over(l, s, one)
+		r = append(r, one)
+		from += n
+	}
+	return r
+}
+
+// Following is a timeline that follows the tasks from the spot on, as draws below n tell: what is due, cut at will, with rest at will where no service is under way, and where one has to wait.
+func Following(draw func(n int) int, l []api.Task, s api.Spot, from int) []api.Record {
+	var r []api.Record
+	for at := from; !errand.Done(l, s); {
+		kind, n := api.Drive, 0
+		if one := l[s.Task]; s.Driven < one.Drive {
+			n = 1 + draw(one.Drive-s.Driven)
+		} else {
+			kind, n = api.Work, 1+draw(one.Serve-s.Served)
+			if s.Served == 0 && !Has(one.Open, at) {
+				kind, n = draw(2), 1
+			}
+		}
+		if s.Served == 0 && draw(5) == 0 {
+			kind, n = draw(2), 1+draw(9)
+		}
+		one := Rec(kind, at, at+n)
+		s, _, _ = errand.Over(l, s, one)
+		r = append(r, one)
+		at += n
+	}
+	return r
 }
 
 // AmidTasks are the same tasks, from the third on as a piece of longer memory, and so are their spans; what lies beside them, ahead and behind, would be told if it were read.

@@ -7,7 +7,6 @@ import (
 	"testing"
 
 	"haulier/api"
-	"haulier/errand"
 	"haulier/sample"
 	"haulier/trail"
 )
@@ -37,37 +36,12 @@ func checkAlong(t *testing.T, l []api.Task, s api.Spot, r []api.Record, w walk, 
 // TestSmallWorlds: of all small tasks all spots and all short timelines.
 func TestSmallWorlds(t *testing.T) {
 	sample.SmallTasks(func(l []api.Task) {
-		for s := range spotsOf(l) {
+		for _, s := range sample.Spots(l) {
 			for from := range 3 {
 				checkAlong(t, l, s, nil, walkFrom(l, s), from, 5-len(l))
 			}
 		}
 	})
-}
-
-// anyTrail is a timeline from that minute on of that many records, as draws below n tell; many of them are of what is due.
-func anyTrail(draw func(n int) int, l []api.Task, s api.Spot, from, count, long int) []api.Record {
-	var r []api.Record
-	for range count {
-		kind, n := draw(api.Kinds), 1+draw(long)
-		if s.Task < len(l) && draw(4) > 0 {
-			kind = api.Work
-			if s.Driven < l[s.Task].Drive {
-				kind = api.Drive
-			}
-			if draw(2) == 0 {
-				n = l[s.Task].Drive - s.Driven
-				if n == 0 {
-					n = l[s.Task].Serve - s.Served
-				}
-			}
-		}
-		one := rec(kind, from, from+n)
-		s, _, _ = errand.Over(l, s, one)
-		r = append(r, one)
-		from += n
-	}
-	return r
 }
 
 // TestMany: of many tasks, spots and timelines what is told is what layer 19's Step says, minute by minute.
@@ -78,7 +52,7 @@ func TestMany(t *testing.T) {
 		long := []int{2, 5, 20, 60}[i%4]
 		l := sample.AnyTasks(draw, draw(10), long)
 		s := sample.AnySpot(draw, l)
-		r := anyTrail(draw, l, s, draw(200), draw(14), long)
+		r := sample.AnyTrail(draw, l, s, draw(200), draw(14), long)
 		w, last := plain(t, l, s, r)
 		checkTold(t, l, s, r, w.spot, w.found(last), w.visits)
 		for _, same := range sample.Alike(r) {
@@ -97,30 +71,6 @@ func TestMany(t *testing.T) {
 	}
 }
 
-// following is a timeline that follows the tasks from the spot on, as draws below n tell: what is due, cut at will, with rest at will where no service is under way, and where one has to wait.
-func following(draw func(n int) int, l []api.Task, s api.Spot, from int) []api.Record {
-	var r []api.Record
-	for at := from; !errand.Done(l, s); {
-		kind, n := api.Drive, 0
-		if one := l[s.Task]; s.Driven < one.Drive {
-			n = 1 + draw(one.Drive-s.Driven)
-		} else {
-			kind, n = api.Work, 1+draw(one.Serve-s.Served)
-			if s.Served == 0 && !sample.Has(one.Open, at) {
-				kind, n = draw(2), 1
-			}
-		}
-		if s.Served == 0 && draw(5) == 0 {
-			kind, n = draw(2), 1+draw(9)
-		}
-		one := rec(kind, at, at+n)
-		s, _, _ = errand.Over(l, s, one)
-		r = append(r, one)
-		at += n
-	}
-	return r
-}
-
 // TestStripped: what follows tasks is, stripped, just their drives and services, one behind the other; each service is a visit; with a minute less, or of another kind, it doesn't follow or it is stripped of the same.
 func TestStripped(t *testing.T) {
 	draw := chance(205).Intn
@@ -133,7 +83,7 @@ func TestStripped(t *testing.T) {
 			}
 		}
 		s := sample.AnySpot(draw, l)
-		r := following(draw, l, s, draw(500))
+		r := sample.Following(draw, l, s, draw(500))
 		w, last := plain(t, l, s, r)
 		checkTold(t, l, s, r, spot(len(l), 0, 0), nil, w.visits)
 		services := 0

@@ -6,7 +6,6 @@ import (
 	"testing"
 
 	"haulier/api"
-	"haulier/errand"
 	"haulier/sample"
 	"haulier/trail"
 )
@@ -87,7 +86,7 @@ func TestFollows(t *testing.T) {
 
 // TestLeft: timelines behind which something is left: amid a drive, behind it, amid a service, ahead of a task; and no records.
 func TestLeft(t *testing.T) {
-	for s := range spotsOf(tour()) {
+	for _, s := range sample.Spots(tour()) {
 		var found []api.Finding
 		if s != end {
 			found = find(api.ClLeft, 0)
@@ -314,19 +313,4 @@ func TestStrip(t *testing.T) {
 	for _, r := range sample.Right() {
 		checkStrip(t, r, stripped(r)...)
 	}
-}
-
-// spotsOf are all spots of the tasks that are right.
-func spotsOf(l []api.Task) map[api.Spot]bool {
-	spots := map[api.Spot]bool{spot(len(l), 0, 0): true}
-	for i, one := range l {
-		for driven := range one.Drive + 1 {
-			for served := range one.Serve + 1 {
-				if s := spot(i, driven, served); errand.Right(l, s) {
-					spots[s] = true
-				}
-			}
-		}
-	}
-	return spots
 }
