@@ -11,21 +11,6 @@ import (
 	"haulier/sample"
 )
 
-// orders: the list in each order.
-func orders(l []api.Meter) [][]api.Meter {
-	if len(l) == 0 {
-		return [][]api.Meter{nil}
-	}
-	var all [][]api.Meter
-	for i, m := range l {
-		rest := slices.Concat(l[:i], l[i+1:])
-		for _, order := range orders(rest) {
-			all = append(all, append([]api.Meter{m}, order...))
-		}
-	}
-	return all
-}
-
 // inTurn: the meters among these, in the list's order, each once.
 func inTurn(l []api.Meter, these ...api.Meter) []api.Meter {
 	var some []api.Meter
@@ -35,32 +20,6 @@ func inTurn(l []api.Meter, these ...api.Meter) []api.Meter {
 		}
 	}
 	return some
-}
-
-// chain: meters each of which is under the next one, in different fields.
-func chain() []api.Meter {
-	l := []api.Meter{{Now: 5000, Dawn: 4000, Sabbath: 4000, Split: true, Acc: 10, Day: 20, Week: 30, Labour: 40}}
-	for _, how := range []func(m *api.Meter){
-		func(m *api.Meter) { m.Acc++ },
-		func(m *api.Meter) { m.Split, m.Week = false, 31 },
-		func(m *api.Meter) { m.Sabbath, m.Longers = 2000, 1 },
-		func(m *api.Meter) { m.Day, m.Longers = 541, 2 },
-	} {
-		l = append(l, with(l[len(l)-1], how))
-	}
-	return l
-}
-
-// apart: meters none of which is under another one, each for another reason.
-func apart() []api.Meter {
-	return []api.Meter{
-		{Now: 5000, Acc: 1, Day: 2, Week: 30},
-		{Now: 5000, Acc: 2, Day: 1, Week: 30},
-		{Now: 5000, Acc: 2, Day: 2, Week: 30, Half: true},
-		{Now: 5000, Acc: 2, Day: 2, Week: 29, Brief: true},
-		{Now: 5001, Acc: 1, Day: 1, Week: 1, Dawn: 5001, Sabbath: 5001, Split: true},
-		{Now: 5000, Acc: 0, Day: 0, Lie: 1},
-	}
 }
 
 // TestLeastFew: of no meters, and of one.
@@ -79,7 +38,7 @@ func TestLeastFew(t *testing.T) {
 
 // TestLeastSame: of meters that are all the same, and of the same ones several times among others, the first ones.
 func TestLeastSame(t *testing.T) {
-	l := apart()
+	l := sample.Rivals()
 	one, two, three := l[0], l[1], l[2]
 	for _, b := range sample.May() {
 		for _, m := range []api.Meter{{}, busy(), full(40320), {Now: -1}} {
@@ -98,15 +57,15 @@ func TestLeastSame(t *testing.T) {
 
 // TestLeastChain: of meters each of which is under the next one the first, in each order.
 func TestLeastChain(t *testing.T) {
-	l := chain()
+	l := sample.Rungs()
 	for i, m := range l[1:] {
 		checkUnder(t, book.Europe(), l[i], m, true)
 		checkUnder(t, book.Europe(), m, l[i], false)
 	}
-	for _, order := range orders(l) {
+	sample.Orders(l, func(order []api.Meter) {
 		checkLeast(t, book.Europe(), order, l[0])
 		checkLeast(t, book.Europe(), append(order, order...), l[0])
-	}
+	})
 	for i := range l {
 		back := slices.Clone(l[i:])
 		slices.Reverse(back)
@@ -117,36 +76,36 @@ func TestLeastChain(t *testing.T) {
 
 // TestLeastApart: of meters none of which is under another one all, in each order.
 func TestLeastApart(t *testing.T) {
-	for _, order := range orders(apart()) {
+	sample.Orders(sample.Rivals(), func(order []api.Meter) {
 		checkLeast(t, book.Europe(), order, order...)
-	}
+	})
 }
 
 // TestLeastMixed: of two chains, and of meters that none is under, in each order.
 func TestLeastMixed(t *testing.T) {
-	l := chain()
+	l := sample.Rungs()
 	low, mid, high := l[0], l[2], l[4]
 	other := with(low, func(m *api.Meter) { m.Now = 6000 })
 	above := with(other, func(m *api.Meter) { m.Last = 7 })
 	alone := with(high, func(m *api.Meter) { m.Acc, m.Last = 0, 3000 })
 	bad := with(low, func(m *api.Meter) { m.Acc = -1 })
-	for _, order := range orders([]api.Meter{low, mid, high, other, above, alone, bad}) {
+	sample.Orders([]api.Meter{low, mid, high, other, above, alone, bad}, func(order []api.Meter) {
 		checkLeast(t, book.Europe(), order, inTurn(order, low, other, alone, bad)...)
-	}
+	})
 	checkLeast(t, book.Europe(), []api.Meter{high, alone, mid}, alone, mid)
 	checkLeast(t, book.Europe(), []api.Meter{high, other, alone, mid, above, low}, other, alone, low)
 }
 
 // TestLeastNoMeters: meters that may not be stay, each once, among others and several times, and leave none out.
 func TestLeastNoMeters(t *testing.T) {
-	l := chain()
+	l := sample.Rungs()
 	low, high := l[0], l[4]
 	one := with(low, func(m *api.Meter) { m.Acc = -5 })
 	two := with(low, func(m *api.Meter) { m.Acc = -4 })
 	three := with(high, func(m *api.Meter) { m.Labour = 5001 })
-	for _, order := range orders([]api.Meter{one, low, two, high, three, one}) {
+	sample.Orders([]api.Meter{one, low, two, high, three, one}, func(order []api.Meter) {
 		checkLeast(t, book.Europe(), order, inTurn(order, one, low, two, three)...)
-	}
+	})
 	for _, bad := range sample.NoMeters() {
 		good := api.Meter{Now: 5000}
 		checkLeast(t, book.Europe(), []api.Meter{bad, good, bad, full(5000), bad}, inTurn([]api.Meter{bad, good, full(5000)}, bad, good, full(5000))...)
@@ -156,8 +115,8 @@ func TestLeastNoMeters(t *testing.T) {
 
 // TestLeastNoBooks: by books that may not be all stay, each once.
 func TestLeastNoBooks(t *testing.T) {
-	l := chain()
-	some := slices.Concat(l, apart(), l, sample.BadMeters(), apart(), sample.BadMeters())
+	l := sample.Rungs()
+	some := slices.Concat(l, sample.Rivals(), l, sample.BadMeters(), sample.Rivals(), sample.BadMeters())
 	for _, b := range sample.NoBooks() {
 		checkLeast(t, b, some, inTurn(some, some...)...)
 		checkLeast(t, b, []api.Meter{l[2], l[0], l[2], l[1]}, l[2], l[0], l[1])
@@ -242,9 +201,9 @@ func TestLeastLong(t *testing.T) {
 // TestReadsOnly: what is handed in reads as before behind each call, and what lies beside a list is nothing to it.
 func TestReadsOnly(t *testing.T) {
 	besides := []api.Meter{{}, {Now: 5000, Dawn: 5000, Sabbath: 5000, Split: true}, {Now: -1}, full(5000)}
-	l := chain()
+	l := sample.Rungs()
 	for _, b := range []api.Book{book.Europe(), sample.Tiny(), {}} {
-		for _, list := range [][]api.Meter{nil, l, apart(), sample.BadMeters(), slices.Concat(l[3:], l[:3], apart(), l, sample.BadMeters())} {
+		for _, list := range [][]api.Meter{nil, l, sample.Rivals(), sample.BadMeters(), slices.Concat(l[3:], l[:3], sample.Rivals(), l, sample.BadMeters())} {
 			before, want := b, plainLeast(b, list)
 			if !sample.Among(list, besides, func(mine []api.Meter) { checkLeast(t, b, mine, want...) }) || b != before {
 				t.Errorf("behind Least(%+v) what was handed in doesn't read as before", sample.Short(list))
@@ -260,7 +219,7 @@ func TestReadsOnly(t *testing.T) {
 
 // TestNewMemory: an answer shares no memory with the list, nor with another answer, be all of the list in it or not.
 func TestNewMemory(t *testing.T) {
-	for _, list := range [][]api.Meter{apart(), chain(), sample.BadMeters(), slices.Concat(chain(), apart())} {
+	for _, list := range [][]api.Meter{sample.Rivals(), sample.Rungs(), sample.BadMeters(), slices.Concat(sample.Rungs(), sample.Rivals())} {
 		mine := slices.Clone(list)
 		one, two := below.Least(book.Europe(), mine), below.Least(book.Europe(), mine)
 		want := slices.Clone(two)
@@ -282,11 +241,11 @@ func TestNewMemory(t *testing.T) {
 
 // TestKeepsNothing: what is asked in between changes no answer.
 func TestKeepsNothing(t *testing.T) {
-	b, l := book.Europe(), slices.Concat(chain(), apart())
+	b, l := book.Europe(), slices.Concat(sample.Rungs(), sample.Rivals())
 	want := below.Least(b, l)
 	for _, other := range slices.Concat(sample.May(), sample.NoBooks()) {
 		below.Under(other, l[0], l[1])
-		below.Least(other, apart())
+		below.Least(other, sample.Rivals())
 		if got := below.Least(b, l); !slices.Equal(got, want) || !below.Under(b, l[0], l[1]) || below.Under(b, l[1], l[0]) {
 			t.Errorf("asked again, Least tells %+v, and told %+v", sample.Short(got), sample.Short(want))
 		}

@@ -84,25 +84,9 @@ func TestShortLists(t *testing.T) {
 	}
 }
 
-// orders hands on the items in each order.
-func orders(l []heap.Item, do func(l []heap.Item)) {
-	var from func(at int)
-	from = func(at int) {
-		if at == len(l) {
-			do(l)
-		}
-		for i := at; i < len(l); i++ {
-			l[at], l[i] = l[i], l[at]
-			from(at + 1)
-			l[at], l[i] = l[i], l[at]
-		}
-	}
-	from(0)
-}
-
 // TestOrders: eight items in each order, handed to New, or pushed one by one.
 func TestOrders(t *testing.T) {
-	orders(cube(0, 1), func(l []heap.Item) {
+	sample.Orders(cube(0, 1), func(l []heap.Item) {
 		checkOut(t, heap.New(l...), l)
 		h := heap.New(l[:3]...)
 		for _, x := range l[3:] {
@@ -229,7 +213,7 @@ func TestNothingIsShared(t *testing.T) {
 
 // TestAlike: the same that is asked of heaps that were made apart, or in another order, is told the same.
 func TestAlike(t *testing.T) {
-	orders(keys(1, 1, 2, 3, 3, 4), func(l []heap.Item) {
+	sample.Orders(keys(1, 1, 2, 3, 3, 4), func(l []heap.Item) {
 		a, b := heap.New(l...), heap.New()
 		for _, x := range slices.Backward(l) {
 			b.Push(x)

@@ -263,11 +263,11 @@ func checkEased(t *testing.T, l []int, others ...[]int) {
 func TestEased(t *testing.T) {
 	for count := range 5 {
 		lists(count, list(-3, -1, 0, 1, 2), func(l []int) {
-			orders(l, func(other []int) { checkEased(t, l, other) })
+			sample.Orders(l, func(other []int) { checkEased(t, l, other) })
 		})
 	}
 	for _, l := range [][]int{list(5, -3, 2, -4, 0, 7), list(-9, 9, -9, 9, -9, 9), list(-1000000, 1000000, 1, -1, 999999, -999999), list(4, -9, 6, -1, 0, 3)} {
-		orders(l, func(other []int) { checkEased(t, l, other) })
+		sample.Orders(l, func(other []int) { checkEased(t, l, other) })
 	}
 	chance := chance(214)
 	for i := range 400 {

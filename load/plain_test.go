@@ -153,20 +153,6 @@ func beyond() []int {
 	return []int{math.MinInt, math.MinInt + 1, -1 << 32, -1<<32 + 1, -2000000, -1000002, -1000001, 1000001, 1000002, 2000000, 1 << 32, 1<<32 + 1, math.MaxInt - 1, math.MaxInt}
 }
 
-// orders hands on all orders of the loads; of equal ones the same order several times.
-func orders(l []int, do func(l []int)) {
-	var behind func(ahead, left []int)
-	behind = func(ahead, left []int) {
-		if len(left) == 0 {
-			do(ahead)
-		}
-		for i, n := range left {
-			behind(append(slices.Clone(ahead), n), slices.Concat(left[:i], left[i+1:]))
-		}
-	}
-	behind(nil, l)
-}
-
 // lists hands on all lists of that many of the numbers.
 func lists(count int, numbers []int, do func(l []int)) {
 	if count == 0 {

@@ -87,3 +87,29 @@ func meterEdges(b api.Book, now int) []int {
 	slices.Sort(l)
 	return slices.DeleteFunc(slices.Compact(l), func(n int) bool { return n < 0 || n > now })
 }
+
+// Rungs are meters each of which is under the next one by the European book, in different fields.
+func Rungs() []api.Meter {
+	l := []api.Meter{{Now: 5000, Dawn: 4000, Sabbath: 4000, Split: true, Acc: 10, Day: 20, Week: 30, Labour: 40}}
+	for _, how := range []func(m *api.Meter){
+		func(m *api.Meter) { m.Acc++ },
+		func(m *api.Meter) { m.Split, m.Week = false, 31 },
+		func(m *api.Meter) { m.Sabbath, m.Longers = 2000, 1 },
+		func(m *api.Meter) { m.Day, m.Longers = 541, 2 },
+	} {
+		l = append(l, With(l[len(l)-1], how))
+	}
+	return l
+}
+
+// Rivals are meters none of which is under another one by any book, each for another reason.
+func Rivals() []api.Meter {
+	return []api.Meter{
+		{Now: 5000, Acc: 1, Day: 2, Week: 30},
+		{Now: 5000, Acc: 2, Day: 1, Week: 30},
+		{Now: 5000, Acc: 2, Day: 2, Week: 30, Half: true},
+		{Now: 5000, Acc: 2, Day: 2, Week: 29, Brief: true},
+		{Now: 5001, Acc: 1, Day: 1, Week: 1, Dawn: 5001, Sabbath: 5001, Split: true},
+		{Now: 5000, Acc: 0, Day: 0, Lie: 1},
+	}
+}

@@ -159,3 +159,17 @@ func Among[T comparable](l, besides []T, call func(mine []T)) bool {
 
 // Short is the begin of a list, as much of it as a failure tells.
 func Short[T any](l []T) []T { return l[:min(len(l), 8)] }
+
+// Orders hands on all orders of the list, each in memory of its own; of things that are the same the same order several times.
+func Orders[T any](l []T, do func(l []T)) {
+	var behind func(ahead, left []T)
+	behind = func(ahead, left []T) {
+		if len(left) == 0 {
+			do(ahead)
+		}
+		for i, one := range left {
+			behind(append(slices.Clone(ahead), one), slices.Concat(left[:i], left[i+1:]))
+		}
+	}
+	behind(nil, l)
+}
