@@ -83,12 +83,7 @@ func TestDone(t *testing.T) {
 	draw := chance(194).Intn
 	for i := range 300 {
 		l := sample.AnyTasks(draw, 1+draw(12), []int{2, 5, 20, 60}[i%4])
-		// In the last window there is time for all that comes late.
-		for i := range l {
-			if n := len(l[i].Open); n > 0 {
-				l[i].Open[n-1].To = 40320
-			}
-		}
+		sample.OpenLate(l)
 		s, _ := errand.Start(l)
 		drive, serve, _ := errand.Left(l, s)
 		count := [4]int{}
@@ -153,18 +148,9 @@ func callAll(l []api.Task) []any {
 	return told
 }
 
-// argumentTasks are tasks of all sorts, such as may be and others.
-func argumentTasks() [][]api.Task {
-	l := [][]api.Task{nil, journey(), right(), {task(0, 0), task(0, 0)}, slices.Repeat(journey(), 300)}
-	for _, w := range wrong() {
-		l = append(l, []api.Task{task(2, 3, 5, 7), w.Task})
-	}
-	return l
-}
-
 // TestArguments: what is handed in reads as before, and what lies beside it in memory is neither read nor written.
 func TestArguments(t *testing.T) {
-	for _, l := range argumentTasks() {
+	for _, l := range sample.TaskLists() {
 		want := callAll(l)
 		memory, windows := sample.AmidTasks(l)
 		before, beforeWindows := sample.AmidTasks(l)

@@ -207,12 +207,6 @@ func TestAlike(t *testing.T) {
 	}
 }
 
-// stays tells, when it is asked later, whether what was handed out reads as it does now.
-func stays[T comparable](l []T) func() bool {
-	before := slices.Clone(l)
-	return func() bool { return slices.Equal(l, before) }
-}
-
 // TestAnswersStay: what All and Spots have handed out reads as before behind later Puts, and what is put behind it, or written to it, doesn't get into the front.
 func TestAnswersStay(t *testing.T) {
 	draws := chance(7)
@@ -223,7 +217,7 @@ func TestAnswersStay(t *testing.T) {
 			s := spot(draws.Intn(3), 0, 0)
 			m := drove(draws.Intn(9+row/10), draws.Intn(9+row/10))
 			p.put(s, m)
-			kept = append(kept, stays(p.front.All(s)), stays(p.front.Spots()))
+			kept = append(kept, sample.Stays(p.front.All(s)), sample.Stays(p.front.Spots()))
 			meters, spots := p.front.All(s), p.front.Spots()
 			_, _ = append(meters, busy()), append(spots, spot(9, 9, 9))
 			for i := range meters {

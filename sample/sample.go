@@ -157,6 +157,12 @@ func Among[T comparable](l, besides []T, call func(mine []T)) bool {
 	return true
 }
 
+// Stays tells, when it is asked later, whether the list reads as it does now.
+func Stays[T comparable](l []T) func() bool {
+	before := slices.Clone(l)
+	return func() bool { return slices.Equal(l, before) }
+}
+
 // Short is the begin of a list, as much of it as a failure tells.
 func Short[T any](l []T) []T { return l[:min(len(l), 8)] }
 

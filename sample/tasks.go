@@ -73,6 +73,15 @@ func NoTasks() []WrongTask {
 	return l
 }
 
+// TaskLists are lists of tasks of all sorts, such as may be and others.
+func TaskLists() [][]api.Task {
+	l := [][]api.Task{nil, Journey(), Tasks(), {Task(0, 0), Task(0, 0)}, slices.Repeat(Journey(), 250), slices.Repeat(Journey(), 300)}
+	for _, w := range NoTasks() {
+		l = append(l, []api.Task{Task(2, 3, 5, 7), w.Task})
+	}
+	return l
+}
+
 // SmallTasks hands on all lists of up to two small tasks, and of three that are smaller yet.
 func SmallTasks(do func(l []api.Task)) {
 	var small, smaller []api.Task
@@ -120,6 +129,15 @@ func AnyTasks(draw func(n int) int, count, long int) []api.Task {
 		l = append(l, one)
 	}
 	return l
+}
+
+// OpenLate has the last windows of all tasks go on up to the end, so that there is time for whatever comes late.
+func OpenLate(l []api.Task) {
+	for _, one := range l {
+		if n := len(one.Open); n > 0 {
+			one.Open[n-1].To = api.MaxTime
+		}
+	}
 }
 
 // Spots are all spots of the tasks that are right.

@@ -76,12 +76,7 @@ func TestStripped(t *testing.T) {
 	draw := chance(205).Intn
 	for i := range 800 {
 		l := sample.AnyTasks(draw, 1+draw(12), []int{2, 5, 20, 60}[i%4])
-		for i := range l {
-			// In the last window there is time for all that comes late.
-			if n := len(l[i].Open); n > 0 {
-				l[i].Open[n-1].To = 40320
-			}
-		}
+		sample.OpenLate(l)
 		s := sample.AnySpot(draw, l)
 		r := sample.Following(draw, l, s, draw(500))
 		w, last := plain(t, l, s, r)
